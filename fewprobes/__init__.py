@@ -1,0 +1,1 @@
+"""A profiler and coverage workbench with the least probes."""
