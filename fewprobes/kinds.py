@@ -13,6 +13,16 @@ def is_count(value):
     return is_whole(value) and value >= 0
 
 
+def are_whole(value):
+    """Whether a value is a list of whole numbers."""
+    return isinstance(value, list) and all([is_whole(number) for number in value])
+
+
+def are_counts(value, many):
+    """Whether a value is a list of so many counts."""
+    return isinstance(value, list) and len(value) == many and all([is_count(number) for number in value])
+
+
 def is_sign(value):
     """Whether a value is the name of a sign."""
     return isinstance(value, str) and value in SIGNS

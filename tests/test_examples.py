@@ -3,6 +3,8 @@
 import unittest
 
 from fewprobes.blocks import edges, first_wrong, is_program, led_to
+from fewprobes.profiles import recorded
+from fewprobes.runs import counters, run, trace
 from fewprobes.sources import how_many_statements, is_source
 
 HALF = ("source", [
@@ -114,3 +116,19 @@ class Programs(unittest.TestCase):
         self.assertEqual(led_to(MADE, ("main", "d", "fault")), ("main", "c0"))
         self.assertEqual(led_to(MADE, ("f", "c0", "go")), ("f", "c"))
         self.assertEqual(led_to(CAUGHT, ("main", "s1", "fault")), ("main", "end"))
+
+
+class Runs(unittest.TestCase):
+    def test_a_program_with_counters_and_without(self):
+        self.assertEqual(run(CALLED, [], [0], 9), (("fault", 0), [], []))
+        self.assertEqual(run(MADE, [], [0], 9), (("fault", 0), [], []))
+        self.assertEqual(counters(MADE, [], [0], 9), [(0, 1), (1, 1)])
+        self.assertEqual(run(MADE, [], [0], 2)[1], [("main", "d"), ("f", "c0")])
+        self.assertEqual(run(CALLED, [], [0], 2)[1], [("main", "d"), ("f", "c")])
+        self.assertEqual([run(MADE, [], [0], 4)[1], run(CALLED, [], [0], 3)[1]], [[("main", "c0")], []])
+
+    def test_runs_that_are_recorded(self):
+        self.assertEqual(recorded(OLD, trace(OLD, [], [5, 7], 9)), ("profile", 1, [2, 1, 2, 1], [0] * 3, [0] * 3))
+        self.assertEqual(recorded(OLD, trace(OLD, [], [5, 7, 0], 5)), ("profile", 1, [2, 1, 2, 0], [0] * 3, [0, 0, 1]))
+        self.assertEqual(run(SHOWN, [0], [4, 5], 99), (("value", 0), [], []))
+        self.assertEqual(run(SHOWN, [0], [6], 2), (("on",), [("main", "more"), ("f", "in")], []))

@@ -6,10 +6,44 @@ ERRORS = ["InvalidProgram", "InvalidNumber", "InvalidList", "InvalidText", "Inva
           "InvalidFlag", "Unlike", "TooMany"]
 FUNCTIONS = {
     "fewprobes.sources": {"is_source": ["value"], "how_many_statements": ["source"]},
+    "fewprobes.sourceruns": {"source_run": ["source", "arguments", "inputs", "most"]},
+    "fewprobes.readings": {"read_source": ["text"], "wrong_at": ["text"], "lines": ["text"], "written": ["source"]},
+    "fewprobes.compiler": {
+        "compiled": ["source"], "places": ["source"], "statements_gone": ["source", "way"],
+        "statement_counts": ["source", "profile"],
+    },
     "fewprobes.words": {"is_word": ["value"]},
     "fewprobes.blocks": {
         "is_program": ["value"], "first_wrong": ["value"], "edges": ["program"], "led_to": ["program", "edge"],
     },
+    "fewprobes.through": {
+        "is_way": ["program", "value"], "stack_behind": ["program", "way"], "leaves": ["program"], "live_edges": ["program"],
+    },
+    "fewprobes.runs": {
+        "run": ["program", "arguments", "inputs", "most"], "trace": ["program", "arguments", "inputs", "most"],
+        "counters": ["program", "arguments", "inputs", "most"], "counts": ["program", "way"],
+    },
+    "fewprobes.profiles": {
+        "is_profile": ["program", "value"], "recorded": ["program", "way"], "merged": ["program", "profiles"],
+        "without": ["program", "profile", "other"], "passes": ["program", "profile"], "begun": ["program", "profile"],
+    },
+    "fewprobes.balance": {
+        "moves": ["program", "cuts"], "way_places": ["program", "cuts"], "tally": ["program", "ways", "cuts"],
+        "edge_counts": ["program", "counts", "cuts"], "misfit": ["program", "counts", "cuts"],
+        "is_tally": ["program", "value", "cuts"], "drawn_up": ["program", "counts", "cuts"], "full_tally": ["program", "cuts"],
+    },
+    "fewprobes.probes": {
+        "is_enough": ["program", "probes", "cuts"], "paper": ["program", "probes", "edge", "cuts"],
+        "is_paper": ["program", "probes", "edge", "value", "cuts"], "parted": ["program", "probes", "cuts"],
+        "is_parting": ["program", "probes", "value", "cuts"], "needed": ["program", "cuts"],
+        "least_probes": ["program", "prices", "cuts"], "is_least": ["program", "prices", "value", "cuts"],
+        "cheaper": ["program", "prices", "probes", "cuts"],
+        "told_back": ["program", "probes", "numbers", "waiting", "standing"],
+    },
+}
+RUNNER = {
+    "__init__": ["program", "arguments", "inputs"], "step": [], "go": ["most"], "stack": [], "printed": [], "trace": [],
+    "counters": [], "copy": [], "__eq__": ["other"],
 }
 
 
@@ -40,3 +74,11 @@ class TheInterface(unittest.TestCase):
             with self.subTest(name):
                 self.assertEqual(getattr(module, name).__module__, "fewprobes.errors")
                 self.assertEqual(str(inspect.signature(getattr(module, name))), "()")
+
+    def test_runner_has_its_methods_in_its_own_body(self):
+        kind = importlib.import_module("fewprobes.runs").Runner
+        self.assertEqual([kind.__module__, kind.__bases__], ["fewprobes.runs", (object,)])
+        for name, arguments in RUNNER.items():
+            with self.subTest(name):
+                self.assertIn(name, vars(kind))
+                self.assertEqual(list(inspect.signature(vars(kind)[name]).parameters), ["self", *arguments])
