@@ -1,10 +1,12 @@
 """What can be told of the sums at edges: the sums at all edges but calls, and the rules that they keep.
 
-A height of a place (the word of papers) is the height of its block plus that of
-its function's leaving: the first block of a function has the height 0, and so have
-the leaving "cut" and all leavings of the main function. Each height that is free
-makes a rule: the sums, each times how the height stands in the row of its edge,
-come to 0 but for pauses at a block.
+The height of a place (the word of papers) is taken as the height of its block plus
+that of its function's leaving: the first block of a function has the height 0, and
+so have the leaving "cut" and all leavings of the main function. Nothing is lost by
+this: from block to block of a call heights fall alike whatever its leaving is, and
+heights of the leaving "cut" are told apart from others by pauses alone, whose marks
+are free. Each other height makes a rule: the sums at the edges, each times how often
+the height stands in the row of its edge, come to 0 but for the pauses at a block.
 """
 
 from fewprobes.flow import NONE
@@ -16,7 +18,6 @@ class Currents:
     """The edges but calls that stand in ways that count, numbered, and the rules that their sums keep."""
 
     def __init__(self, grammar):
-        self.grammar = grammar
         self.flow = grammar.flow
         moved = [move for move in grammar.moves if move.way not in ("waits", "stands")]
         self.edges = sorted(set([self.flow.number_at[(move.block, move.way)] for move in moved]))

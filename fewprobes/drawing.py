@@ -84,20 +84,20 @@ def way_of(flow, root):
 
 
 def full_counts(grammar):
-    """Counts of a tally that makes each move."""
+    """Counts of a tally that makes each move, and of ways that begin at each main place where moves are made."""
     endings = ending_counts(grammar)
     comings = coming_counts(grammar, endings)
     total = [0] * len(grammar.moves)
-    for move in grammar.moves:
-        total = added(grammar, move, [total, comings[move.place], *[endings[lead] for lead in move.leads]])
+    for number, move in enumerate(grammar.moves):
+        if total[number] == 0 or move.place in grammar.mains:
+            total = added(grammar, move, [total, comings[move.place], *[endings[lead] for lead in move.leads]])
     return total
 
 
 def added(grammar, move, rows):
     """The sums of rows of a number for each move, and a move once more."""
     found = [sum(column) for column in zip(*rows)]
-    if found:
-        found[grammar.move_at[(move.place, move.way)]] += 1
+    found[grammar.move_at[(move.place, move.way)]] += 1
     return found
 
 

@@ -3,7 +3,9 @@
 from fewprobes.currents import Currents
 from fewprobes.drawing import full_counts
 from fewprobes.flow import NONE
-from fewprobes.grammar import CUT, FAULT, PAUSES, VALUE, Move, how_many_leavings, moves_at, place_of, reached_from
+from fewprobes.grammar import (
+    CUT, FAULT, PAUSES, VALUE, Move, how_many_leavings, lefts_and_leds, moves_at, place_of, reached_from,
+)
 from fewprobes.ratios import lowest_whole
 
 
@@ -14,10 +16,22 @@ def parted_by(grammar, probes):
     if sums is None:
         return None
     change = moved(grammar, currents.edges, sums)
-    # So often that with the change, too, each move is made and ways begin at each main place where one does.
-    often = 1 + 3 * sum([abs(number) for number in change])
-    one = [often * number for number in full_counts(grammar)]
+    full = full_counts(grammar)
+    often = how_often(grammar, full, change)
+    one = [often * number for number in full]
     return (one, [number + more for number, more in zip(one, change)])
+
+
+def how_often(grammar, full, change):
+    """How often a full tally has to be taken so that it stays one with a change."""
+    # What has to stay above 0: how often each move is made, and how many ways begin at each main place.
+    pairs = list(zip(full, change))
+    lefts, leds = lefts_and_leds(grammar, full)
+    more_lefts, more_leds = lefts_and_leds(grammar, change)
+    for place in grammar.mains:
+        if place in lefts:
+            pairs.append((lefts[place] - leds[place], more_lefts[place] - more_leds[place]))
+    return max([1, *[0 - (more - 1) // number for number, more in pairs]])
 
 
 def unseen_sums(currents, probes):

@@ -16,12 +16,14 @@ TURN = ("f", ["n"], [("a", [], ("test", "n", "b", "c")), ("b", [], ("return", "n
 
 def tried():
     return ("program", [
-        ("main", [], [("d", [("read", "x")], ("try", "y", "f", ("x",), "e", "z", "d")), ("e", [], ("return", "y"))]), TURN,
+        ("main", [], [("d", [("read", "x")], ("try", "y", "f", ("x",), "e", "z", "d")), ("e", [], ("return", "y"))]),
+        TURN,
     ])
 
 
 def called():
-    return ("program", [("main", [], [("d", [("read", "x")], ("call", "y", "f", ("x",), "e")), ("e", [], ("return", "y"))]), TURN])
+    return ("program", [("main", [], [("d", [("read", "x")], ("call", "y", "f", ("x",), "e")),
+        ("e", [], ("return", "y"))]), TURN])
 
 
 def itself():
@@ -29,7 +31,8 @@ def itself():
 
 
 def endless():
-    return ("program", [("main", [], [("a", [], ("call", "x", "f", (), "b")), ("b", [], END)]), ("f", [], [("a", [], ("go", "a"))])])
+    return ("program", [("main", [], [("a", [], ("call", "x", "f", (), "b")), ("b", [], END)]),
+        ("f", [], [("a", [], ("go", "a"))])])
 
 
 def told_tally(program, ways, cuts):
@@ -76,15 +79,20 @@ class Moves(unittest.TestCase):
             (("f", "b", "return", "value"), []), (("f", "c", "raise", "fault"), []),
         ])
         self.assertEqual(way_places(tried(), False), [
-            ("main", "d", "value"), ("main", "e", "value"), ("f", "a", "value"), ("f", "a", "fault"), ("f", "b", "value"), ("f", "c", "fault"),
+            ("main", "d", "value"), ("main", "e", "value"), ("f", "a", "value"), ("f", "a", "fault"),
+            ("f", "b", "value"), ("f", "c", "fault"),
         ])
 
     def test_of_all_ways(self):
         self.assertEqual([move for move, led in moves(tried(), True)], [
-            ("main", "d", "value", "value"), ("main", "d", "fault", "value"), ("main", "d", "value", "cut"), ("main", "d", "fault", "cut"),
-            ("main", "d", "waits", "cut"), ("main", "d", "stands", "cut"), ("main", "e", "return", "value"), ("main", "e", "stands", "cut"),
-            ("f", "a", "yes", "value"), ("f", "a", "no", "fault"), ("f", "a", "yes", "cut"), ("f", "a", "no", "cut"), ("f", "a", "stands", "cut"),
-            ("f", "b", "return", "value"), ("f", "b", "stands", "cut"), ("f", "c", "raise", "fault"), ("f", "c", "stands", "cut"),
+            ("main", "d", "value", "value"), ("main", "d", "fault", "value"), ("main", "d", "value", "cut"),
+            ("main", "d", "fault", "cut"),
+            ("main", "d", "waits", "cut"), ("main", "d", "stands", "cut"), ("main", "e", "return", "value"),
+            ("main", "e", "stands", "cut"),
+            ("f", "a", "yes", "value"), ("f", "a", "no", "fault"), ("f", "a", "yes", "cut"), ("f", "a", "no", "cut"),
+            ("f", "a", "stands", "cut"),
+            ("f", "b", "return", "value"), ("f", "b", "stands", "cut"), ("f", "c", "raise", "fault"),
+            ("f", "c", "stands", "cut"),
         ])
         told = dict(moves(tried(), True))
         self.assertEqual(told[("main", "d", "fault", "cut")], [("f", "a", "fault"), ("main", "d", "cut")])
@@ -93,38 +101,48 @@ class Moves(unittest.TestCase):
         self.assertEqual(told[("f", "a", "no", "cut")], [("f", "c", "cut")])
 
     def test_the_fault_of_a_call_leaves_by_a_fault_alone(self):
-        self.assertEqual([pair for pair in moves(called(), True) if pair[0][2] == "fault"], [(("main", "d", "fault", "fault"), [("f", "a", "fault")])])
-        self.assertEqual(way_places(called(), False)[:3], [("main", "d", "value"), ("main", "d", "fault"), ("main", "e", "value")])
+        self.assertEqual([pair for pair in moves(called(), True) if pair[0][2] == "fault"],
+            [(("main", "d", "fault", "fault"), [("f", "a", "fault")])])
+        self.assertEqual(way_places(called(), False)[:3],
+            [("main", "d", "value"), ("main", "d", "fault"), ("main", "e", "value")])
 
     def test_the_order_of_leavings_and_ways(self):
         program = ("program", [
-            ("main", [], [("a", [], ("try", "x", "f", (), "b", "y", "b")), ("b", [], ("test", "x", "c", "d")), ("c", [], END), ("d", [], ("raise", "x"))]),
+            ("main", [], [("a", [], ("try", "x", "f", (), "b", "y", "b")), ("b", [], ("test", "x", "c", "d")),
+                ("c", [], END), ("d", [], ("raise", "x"))]),
             ("f", [], [("a", [], ("test", "x", "b", "c")), ("b", [], END), ("c", [], ("raise", "x"))]),
         ])
         self.assertEqual([move[2:] for move, led in moves(program, True) if move[:2] == ("main", "a")], [
-            ("value", "value"), ("fault", "value"), ("value", "fault"), ("fault", "fault"), ("value", "cut"), ("fault", "cut"),
+            ("value", "value"), ("fault", "value"), ("value", "fault"), ("fault", "fault"), ("value", "cut"),
+            ("fault", "cut"),
             ("waits", "cut"), ("stands", "cut"),
         ])
         self.assertEqual([place[2] for place in way_places(program, True)[:3]], ["value", "fault", "cut"])
 
     def test_a_move_that_leads_to_a_place_twice(self):
-        program = of_blocks([("a", [], ("test", "x", "b", "c")), ("b", [], ("call", "x", "main", (), "a")), ("c", [], END)])
+        program = of_blocks([("a", [], ("test", "x", "b", "c")), ("b", [], ("call", "x", "main", (), "a")),
+            ("c", [], END)])
         self.assertEqual(dict(moves(program, False))[("main", "b", "value", "value")], [("main", "a", "value")] * 2)
 
     def test_blocks_that_no_way_comes_to_and_functions_that_never_end(self):
         program = ("program", [
             ("main", [], [
-                ("a", [], ("test", "x", "b", "c")), ("b", [], ("call", "x", "f", (), "c")), ("c", [], END), ("u", [], ("go", "c")),
+                ("a", [], ("test", "x", "b", "c")), ("b", [], ("call", "x", "f", (), "c")), ("c", [], END),
+                ("u", [], ("go", "c")),
             ]),
             ("f", [], [("a", [], ("go", "b")), ("b", [], ("go", "a")), ("c", [], END)]), ("g", [], [("a", [], END)]),
         ])
-        self.assertEqual([move for move, led in moves(program, False)], [("main", "a", "no", "value"), ("main", "c", "return", "value")])
+        self.assertEqual([move for move, led in moves(program, False)],
+            [("main", "a", "no", "value"), ("main", "c", "return", "value")])
         self.assertEqual([move for move, led in moves(program, True)], [
-            ("main", "a", "no", "value"), ("main", "a", "yes", "cut"), ("main", "a", "no", "cut"), ("main", "a", "stands", "cut"),
-            ("main", "b", "waits", "cut"), ("main", "b", "stands", "cut"), ("main", "c", "return", "value"), ("main", "c", "stands", "cut"),
+            ("main", "a", "no", "value"), ("main", "a", "yes", "cut"), ("main", "a", "no", "cut"),
+            ("main", "a", "stands", "cut"),
+            ("main", "b", "waits", "cut"), ("main", "b", "stands", "cut"), ("main", "c", "return", "value"),
+            ("main", "c", "stands", "cut"),
             ("f", "a", "go", "cut"), ("f", "a", "stands", "cut"), ("f", "b", "go", "cut"), ("f", "b", "stands", "cut"),
         ])
-        self.assertEqual(way_places(program, True)[:3], [("main", "a", "value"), ("main", "a", "cut"), ("main", "b", "cut")])
+        self.assertEqual(way_places(program, True)[:3],
+            [("main", "a", "value"), ("main", "a", "cut"), ("main", "b", "cut")])
 
     def test_no_way_at_all(self):
         self.assertEqual([moves(endless(), False), way_places(endless(), False)], [[], []])
@@ -136,7 +154,8 @@ class Moves(unittest.TestCase):
             program = some_program(dice)
             for cuts in [False, True]:
                 made = moves(program, cuts)
-                held = counting(program, dice, cuts) + [pair for pair in all_ways(program, 13, 1500) if cuts or not pair[1]]
+                held = counting(program, dice, cuts) + [pair for pair in all_ways(program, 13,
+                    1500) if cuts or not pair[1]]
                 self.assertTrue(all(told_tally(program, held, cuts)), seed)
                 order = {word: k for k, word in enumerate(["value", "fault", "cut"])}
                 labels = [(function[0], block[0]) for function in program[1] for block in function[2]]
@@ -148,7 +167,8 @@ class Moves(unittest.TestCase):
                     self.assertIs(type(led), list)
                     self.assertTrue(set(led) <= set(way_places(program, cuts)))
                 if not cuts:
-                    gone = {move[:3] for move, led in made} | {(*move[:2], "call") for move, led in made if move[2] in ("value", "fault")}
+                    gone = {move[:3] for move, led in made} | {(*move[:2], "call") for move,
+                    led in made if move[2] in ("value", "fault")}
                     self.assertEqual(live_edges(program), [edge for edge in edges(program) if edge in gone])
 
 
@@ -187,11 +207,13 @@ class Tallies(unittest.TestCase):
         program, many = itself(), 3000
         begin = time.perf_counter()
         down = [("main", "a", "yes"), ("main", "b", "call")] * many
-        whole = down + [("main", "a", "no"), ("main", "c", "return")] + [("main", "b", "value"), ("main", "c", "return")] * many
+        whole = down + [("main", "a", "no"), ("main", "c", "return")] + [("main", "b", "value"),
+            ("main", "c", "return")] * many
         self.assertEqual(tally(program, [whole], False), [many, 1, many, many + 1])
         told = dict(zip([move for move, led in moves(program, True)], tally(program, [down, whole], True)))
         self.assertEqual({move[1:]: n for move, n in told.items() if n}, {
-            ("a", "yes", "value"): many, ("a", "no", "value"): 1, ("b", "value", "value"): many, ("c", "return", "value"): many + 1,
+            ("a", "yes", "value"): many, ("a", "no", "value"): 1, ("b", "value", "value"): many,
+            ("c", "return", "value"): many + 1,
             ("a", "yes", "cut"): many, ("b", "waits", "cut"): many, ("a", "stands", "cut"): 1,
         })
         self.assertLess(time.perf_counter() - begin, 10)
@@ -199,7 +221,8 @@ class Tallies(unittest.TestCase):
     def test_edge_counts(self):
         self.assertEqual(edge_counts(tried(), [2, 3, 2, 2, 3, 2, 3], False), [5, 2, 3, 2, 2, 3, 2, 3])
         self.assertEqual(edge_counts(tried(), [1, 0, 0, 0, 1, 1] + [0] * 11, True), [2, 1, 0, 0, 0, 0, 0, 0])
-        self.assertEqual(edge_counts(tried(), [10 ** 60, 0, 0, 0, 0, 0, 5], False), [10 ** 60, 10 ** 60, 0, 0, 0, 0, 0, 5])
+        self.assertEqual(edge_counts(tried(), [10 ** 60, 0, 0, 0, 0, 0, 5], False),
+            [10 ** 60, 10 ** 60, 0, 0, 0, 0, 0, 5])
         self.assertEqual(edge_counts(endless(), [], False), [0] * 5)
 
     def test_refusals(self):
@@ -215,7 +238,8 @@ class Tallies(unittest.TestCase):
             with self.assertRaises(InvalidList) as caught:
                 tally(program, value, False)
             self.assertIs(caught.exception.value, value)
-        for value in odd_values() + [[0] * 6, [0] * 8, (0,) * 7, [0] * 6 + [-1], [0] * 6 + [True], [0] * 6 + [None], [0] * 17]:
+        for value in odd_values() + [[0] * 6, [0] * 8, (0,) * 7, [0] * 6 + [-1], [0] * 6 + [True], [0] * 6 + [None],
+            [0] * 17]:
             for function in [edge_counts, misfit]:
                 with self.assertRaises(InvalidList) as caught:
                     function(program, value, False)
@@ -255,14 +279,17 @@ class Misfits(unittest.TestCase):
     def test_apart(self):
         self.check([0, 3, 0, 0, 3, 0, 3], (("main", "d", "value"), "apart"))
         self.check([0, 1, 0, 0, 1, 0, 1], (("main", "d", "value"), "apart"))
-        program = of_blocks([("a", [], ("test", "x", "b", "c")), ("b", [], ("go", "b")), ("c", [], ("test", "x", "c", "d")), ("d", [], END)])
-        self.assertEqual([move[1:3] for move, led in moves(program, False)], [("a", "no"), ("c", "yes"), ("c", "no"), ("d", "return")])
+        program = of_blocks([("a", [], ("test", "x", "b", "c")), ("b", [], ("go", "b")),
+            ("c", [], ("test", "x", "c", "d")), ("d", [], END)])
+        self.assertEqual([move[1:3] for move, led in moves(program, False)],
+            [("a", "no"), ("c", "yes"), ("c", "no"), ("d", "return")])
         self.check([0, 4, 0, 0], (("main", "c", "value"), "apart"), program)
         self.check([1, 4, 1, 1], None, program)
 
     def test_a_place_that_is_come_to_through_moves_that_are_not_made(self):
         program = of_blocks([
-            ("a", [], ("test", "x", "b", "d")), ("b", [], ("test", "x", "b", "c")), ("c", [], ("go", "d")), ("d", [], END),
+            ("a", [], ("test", "x", "b", "d")), ("b", [], ("test", "x", "b", "c")), ("c", [], ("go", "d")),
+            ("d", [], END),
         ])
         self.assertEqual([move[1:3] for move, led in moves(program, False)],
                          [("a", "yes"), ("a", "no"), ("b", "yes"), ("b", "no"), ("c", "go"), ("d", "return")])
@@ -270,8 +297,10 @@ class Misfits(unittest.TestCase):
         self.check([1, 0, 2, 1, 1, 1], None, program)
 
     def test_twice(self):
-        program = of_blocks([("a", [], ("test", "x", "b", "c")), ("b", [], ("call", "x", "main", (), "a")), ("c", [], END)])
-        self.assertEqual([move[1:3] for move, led in moves(program, False)], [("a", "yes"), ("a", "no"), ("b", "value"), ("c", "return")])
+        program = of_blocks([("a", [], ("test", "x", "b", "c")), ("b", [], ("call", "x", "main", (), "a")),
+            ("c", [], END)])
+        self.assertEqual([move[1:3] for move, led in moves(program, False)],
+            [("a", "yes"), ("a", "no"), ("b", "value"), ("c", "return")])
         self.check([1, 2, 1, 2], None, program)
         self.check([2, 2, 2, 2], (("main", "a", "value"), "apart"), program)
         self.check([2, 1, 2, 1], (("main", "a", "value"), "balance"), program)
@@ -328,13 +357,15 @@ class DrawingUp(unittest.TestCase):
     def test_rings_that_must_be_put_in(self):
         self.assertEqual(len(self.check(tried(), [1, 30, 1, 1, 30, 1, 30], False)), 1)
         program = of_blocks([
-            ("a", [], ("test", "x", "b", "c")), ("b", [], ("test", "x", "a", "b")), ("c", [], ("test", "x", "a", "d")), ("d", [], ("test", "x", "e", "d")),
+            ("a", [], ("test", "x", "b", "c")), ("b", [], ("test", "x", "a", "b")), ("c", [], ("test", "x", "a", "d")),
+            ("d", [], ("test", "x", "e", "d")),
             ("e", [], END),
         ])
         self.assertEqual(len(self.check(program, [7, 6, 7, 9, 5, 1, 1, 20, 1], False)), 1)
 
     def test_calls_within_calls(self):
-        program = of_blocks([("a", [], ("test", "x", "b", "c")), ("b", [], ("call", "x", "main", (), "a")), ("c", [], END)])
+        program = of_blocks([("a", [], ("test", "x", "b", "c")), ("b", [], ("call", "x", "main", (), "a")),
+            ("c", [], END)])
         for many in [1, 2, 100, 249]:
             self.assertEqual(len(self.check(program, [many, many + 1, many, many + 1], False)), 1)
             self.assertEqual(len(self.check(program, [many, many + 3, many, many + 3], False)), 3)
@@ -344,7 +375,8 @@ class DrawingUp(unittest.TestCase):
         self.check(itself(), [249, 1, 249, 250], False)
         self.check(tried(), [1, 330, 1, 1, 330, 1, 330], False)
         labels = [f"b{k}" for k in range(40)]
-        program = of_blocks([(label, [], ("test", "x", labels[(k * 7 + 1) % 40], labels[(k * 3 + 2) % 40])) for k, label in enumerate(labels)])
+        program = of_blocks([(label, [], ("test", "x", labels[(k * 7 + 1) % 40], labels[(k * 3 + 2) % 40])) for k,
+            label in enumerate(labels)])
         self.check(program, tally(program, [[]], True), True)
         way, stack = some_way(program, chance(1), 1000)
         self.check(program, tally(program, [way], True), True)
@@ -403,7 +435,8 @@ class Refusals(unittest.TestCase):
     """[2], [26] to [29]"""
 
     def test_programs_ahead_of_flags_ahead_of_the_rest(self):
-        calls = [(moves, ()), (way_places, ()), (tally, (None,)), (edge_counts, (None,)), (misfit, (None,)), (is_tally, (None,)),
+        calls = [(moves, ()), (way_places, ()), (tally, (None,)), (edge_counts, (None,)), (misfit, (None,)),
+            (is_tally, (None,)),
                  (drawn_up, (None,)), (full_tally, ())]
         for value in odd_values() + [of_blocks([])]:
             for function, more in calls:

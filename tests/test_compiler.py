@@ -9,7 +9,7 @@ from fewprobes.readings import read_source
 from fewprobes.runs import run, trace
 from fewprobes.sourceruns import source_run
 from fewprobes.sources import how_many_statements, is_source
-from makers import chance, some_source, some_way
+from makers import chance, some_expression, some_source, some_way
 from samples import full_source, odd_values, of_rows
 
 FINAL = ("end", [("set", "t0", 0)], ("return", "t0"))
@@ -64,39 +64,49 @@ class Blocks(unittest.TestCase):
 
     def test_a_while_opens_a_block(self):
         self.check("read x; while x { read x; }", ("s0", [("read", "x")], ("go", "s1")),
-                   ("s1", [("copy", "t0", "x")], ("test", "t0", "s2", "end")), ("s2", [("read", "x")], ("go", "s1")), FINAL)
+                   ("s1", [("copy", "t0", "x")], ("test", "t0", "s2", "end")), ("s2", [("read", "x")], ("go", "s1")),
+                   FINAL)
         self.check("while 0 { } return 1;", ("s0", ZERO, ("test", "t0", "s0", "s1")), ("s1", ONE, ("return", "t0")))
 
     def test_a_while_first_in_a_while(self):
-        self.check("while 1 { while 0 { } }", ("s0", ONE, ("test", "t0", "s1", "end")), ("s1", ZERO, ("test", "t0", "s1", "s0")), FINAL)
+        self.check("while 1 { while 0 { } }", ("s0", ONE, ("test", "t0", "s1", "end")),
+            ("s1", ZERO, ("test", "t0", "s1", "s0")), FINAL)
 
     def test_if(self):
         self.check("if 1 { read x; } else { read y; } return 0;", ("s0", ONE, ("test", "t0", "s1", "s2")),
-                   ("s1", [("read", "x")], ("go", "s3")), ("s2", [("read", "y")], ("go", "s3")), ("s3", ZERO, ("return", "t0")))
-        self.check("if 1 { } else { read y; }", ("s0", ONE, ("test", "t0", "end", "s1")), ("s1", [("read", "y")], ("go", "end")), FINAL)
+                   ("s1", [("read", "x")], ("go", "s3")), ("s2", [("read", "y")], ("go", "s3")),
+                   ("s3", ZERO, ("return", "t0")))
+        self.check("if 1 { } else { read y; }", ("s0", ONE, ("test", "t0", "end", "s1")),
+            ("s1", [("read", "y")], ("go", "end")), FINAL)
         self.check("if 1 { return 0; } else { return 0; }", ("s0", ONE, ("test", "t0", "s1", "s2")),
                    ("s1", ZERO, ("return", "t0")), ("s2", ZERO, ("return", "t0")))
 
     def test_behind_rows_within_rows(self):
-        self.check("while 1 { if 0 { if 1 { read x; } } }", ("s0", ONE, ("test", "t0", "s1", "end")), ("s1", ZERO, ("test", "t0", "s2", "s0")),
+        self.check("while 1 { if 0 { if 1 { read x; } } }", ("s0", ONE, ("test", "t0", "s1", "end")),
+            ("s1", ZERO, ("test", "t0", "s2", "s0")),
                    ("s2", ONE, ("test", "t0", "s3", "s0")), ("s3", [("read", "x")], ("go", "s0")), FINAL)
 
     def test_leave_and_again(self):
-        self.check("while 1 { while 0 { leave; } if 0 { again; } leave; } return 0;", ("s0", ONE, ("test", "t0", "s1", "s6")),
-                   ("s1", ZERO, ("test", "t0", "s2", "s3")), ("s2", [], ("go", "s3")), ("s3", ZERO, ("test", "t0", "s4", "s5")),
+        self.check("while 1 { while 0 { leave; } if 0 { again; } leave; } return 0;",
+            ("s0", ONE, ("test", "t0", "s1", "s6")),
+                   ("s1", ZERO, ("test", "t0", "s2", "s3")), ("s2", [], ("go", "s3")),
+                   ("s3", ZERO, ("test", "t0", "s4", "s5")),
                    ("s4", [], ("go", "s0")), ("s5", [], ("go", "s6")), ("s6", ZERO, ("return", "t0")))
 
     def test_try(self):
-        self.check("try { read x; } catch y { read z; } return 0;", ("s0", [], ("go", "s1")), ("s1", [("read", "x")], ("go", "s3")),
+        self.check("try { read x; } catch y { read z; } return 0;", ("s0", [], ("go", "s1")),
+            ("s1", [("read", "x")], ("go", "s3")),
                    ("s2", [("read", "z")], ("go", "s3")), ("s3", ZERO, ("return", "t0")))
-        self.check("try { } catch y { read z; } return 0;", ("s0", [], ("go", "s2")), ("s1", [("read", "z")], ("go", "s2")),
+        self.check("try { } catch y { read z; } return 0;", ("s0", [], ("go", "s2")),
+            ("s1", [("read", "z")], ("go", "s2")),
                    ("s2", ZERO, ("return", "t0")))
 
     def test_raise_in_rows_of_a_try(self):
         self.check("try { raise x + 1; } catch y { return 0; } return 1;", ("s0", [], ("go", "s1")),
                    ("s1", [("copy", "t0", "x"), ("set", "t1", 1), ("deed", "y", "plus", "t0", "t1")], ("go", "s2")),
                    ("s2", ZERO, ("return", "t0")), ("s3", ONE, ("return", "t0")))
-        self.check("try { raise 1; } catch y { } return 1;", ("s0", [], ("go", "s1")), ("s1", [("set", "y", 1)], ("go", "s2")),
+        self.check("try { raise 1; } catch y { } return 1;", ("s0", [], ("go", "s1")),
+            ("s1", [("set", "y", 1)], ("go", "s2")),
                    ("s2", ONE, ("return", "t0")))
 
     def test_calls_in_rows_of_a_try(self):
@@ -132,7 +142,8 @@ class Blocks(unittest.TestCase):
             ("", True), ("read x;", True), ("while 1 { }", True), ("while 1 { leave; }", True), ("x = call g();", True),
             ("try { return 0; } catch x { return 0; }", False), ("try { return 0; } catch x { }", False),
             ("try { raise 0; } catch x { }", True), ("while 1 { return 0; read x; } raise 1;", False),
-            ("return 0; read x;", True), ("if 1 { return 0; }", True), ("end = 1; return end;", False), ("x = call end();", True),
+            ("return 0; read x;", True), ("if 1 { return 0; }", True), ("end = 1; return end;", False),
+            ("x = call end();", True),
         ]:
             with self.subTest(text):
                 source = read_source("fun main() {" + text + "} fun g() { } fun end() { return 0; }")
@@ -145,20 +156,25 @@ class Blocks(unittest.TestCase):
     def test_expressions(self):
         self.assertEqual(steps_of("x = 4;"), [("set", "x", 4)])
         self.assertEqual(steps_of("x = y;"), [("copy", "x", "y")])
-        self.assertEqual(steps_of("x = x - y;"), [("copy", "t0", "x"), ("copy", "t1", "y"), ("deed", "x", "minus", "t0", "t1")])
+        self.assertEqual(steps_of("x = x - y;"), [("copy", "t0", "x"), ("copy", "t1", "y"),
+            ("deed", "x", "minus", "t0", "t1")])
         self.assertEqual(steps_of("print x;"), [("copy", "t0", "x"), ("print", "t0")])
         self.assertEqual(steps_of("return (1 < x) * (y == (2 over z));"), [
-            ("set", "t0", 1), ("copy", "t1", "x"), ("deed", "t0", "less", "t0", "t1"), ("copy", "t1", "y"), ("set", "t2", 2),
-            ("copy", "t3", "z"), ("deed", "t2", "over", "t2", "t3"), ("deed", "t1", "same", "t1", "t2"), ("deed", "t0", "times", "t0", "t1"),
+            ("set", "t0", 1), ("copy", "t1", "x"), ("deed", "t0", "less", "t0", "t1"), ("copy", "t1", "y"),
+            ("set", "t2", 2),
+            ("copy", "t3", "z"), ("deed", "t2", "over", "t2", "t3"), ("deed", "t1", "same", "t1", "t2"),
+            ("deed", "t0", "times", "t0", "t1"),
         ])
         self.assertEqual(steps_of("x = 1 + (2 + 3) + 4;"), [
-            ("set", "t0", 1), ("set", "t1", 2), ("set", "t2", 3), ("deed", "t1", "plus", "t1", "t2"), ("deed", "t0", "plus", "t0", "t1"),
+            ("set", "t0", 1), ("set", "t1", 2), ("set", "t2", 3), ("deed", "t1", "plus", "t1", "t2"),
+            ("deed", "t0", "plus", "t0", "t1"),
             ("set", "t1", 4), ("deed", "x", "plus", "t0", "t1"),
         ])
 
     def test_given_expressions(self):
         self.assertEqual(made("x = call h(a rest 2, b - (c - 1));")[0], ("s0", [
-            ("copy", "t0", "a"), ("set", "t1", 2), ("deed", "t0", "rest", "t0", "t1"), ("copy", "t1", "b"), ("copy", "t2", "c"),
+            ("copy", "t0", "a"), ("set", "t1", 2), ("deed", "t0", "rest", "t0", "t1"), ("copy", "t1", "b"),
+            ("copy", "t2", "c"),
             ("set", "t3", 1), ("deed", "t2", "minus", "t2", "t3"), ("deed", "t1", "minus", "t1", "t2"),
         ], ("call", "x", "h", ("t0", "t1"), "end")))
 
@@ -166,9 +182,19 @@ class Blocks(unittest.TestCase):
         for depth in [11, 60]:
             text = "1 - (" * depth + "x" + ")" * depth
             steps = steps_of(f"print {text};")
-            self.assertEqual(steps[:depth + 1], [("set", f"t{k}", 1) for k in range(depth)] + [("copy", f"t{depth}", "x")])
+            self.assertEqual(steps[:depth + 1], [("set", f"t{k}", 1) for k in range(depth)] + [("copy", f"t{depth}",
+                "x")])
             self.assertEqual(steps[-2:], [("deed", "t0", "minus", "t0", "t1"), ("print", "t0")])
             self.assertEqual(run(compiled(of_rows([("print", told(text))])), [], [], 9)[2], [depth % 2])
+
+    def test_expressions_of_all_depths(self):
+        for depth in range(12):
+            for seed in range(12):
+                dice = chance(seed)
+                source = of_rows([("read", "x"), ("print", some_expression(dice, depth)),
+                    ("return", some_expression(dice, depth))], ["a", "b"])
+                outcome, printed, begun = source_run(source, [seed, -3], [5], 9)
+                self.assertEqual(run(compiled(source), [seed, -3], [5], 1), (outcome, [], printed))
 
     def test_all_that_is_made_is_a_program(self):
         for source in [full_source()] + [some_source(chance(seed), deep=5) for seed in range(200)]:
@@ -212,7 +238,8 @@ class SameRuns(unittest.TestCase):
         begun = source_run(source, [50], [], 10000)[2]
         self.assertEqual(run(compiled(source), [50], [], 2 * len(begun) + 1)[0], ("value", 0))
         empty = read_source("fun main() { }")
-        self.assertEqual([run(compiled(empty), [], [], 1)[0], run(compiled(empty), [], [], 0)[0]], [("value", 0), ("on",)])
+        self.assertEqual([run(compiled(empty), [], [], 1)[0], run(compiled(empty), [], [], 0)[0]],
+            [("value", 0), ("on",)])
 
     def test_deep_calls(self):
         source = read_source("fun f(n) { if n { n = call f(n - 1); } raise 4; }")
@@ -237,7 +264,8 @@ class Places(unittest.TestCase):
         for seed in range(100):
             source = some_source(chance(seed))
             program = compiled(source)
-            labels = [(name, block[0]) for name, parameters, blocks in program[1] for block in blocks if block[0] != "end"]
+            labels = [(name, block[0]) for name, parameters,
+                blocks in program[1] for block in blocks if block[0] != "end"]
             told = places(source)
             self.assertEqual(len(told), how_many_statements(source))
             self.assertEqual([place for at, place in enumerate(told) if place not in told[:at]], labels)
@@ -273,7 +301,8 @@ class StatementsGone(unittest.TestCase):
 
     def test_refusals(self):
         way = trace(compiled(self.source), [], [0], 9)
-        for value in odd_values() + [tuple(way), way[:3], way + way[:1], way[1:], [("main", "s0", "go")], [list(way[0])]]:
+        for value in odd_values() + [tuple(way), way[:3], way + way[:1], way[1:], [("main", "s0", "go")],
+            [list(way[0])]]:
             if value != []:
                 with self.assertRaises(InvalidList) as caught:
                     statements_gone(self.source, value)
@@ -286,7 +315,8 @@ class StatementCounts(unittest.TestCase):
     def test_of_merged_profiles(self):
         source = StatementsGone.source
         program = compiled(source)
-        held = [recorded(program, trace(program, [], inputs, most)) for inputs, most in [([0], 9), ([7], 9), ([0], 1), ([0], 2), ([], 0)]]
+        held = [recorded(program, trace(program, [], inputs, most)) for inputs,
+            most in [([0], 9), ([7], 9), ([0], 1), ([0], 2), ([], 0)]]
         self.assertEqual([statement_counts(source, profile) for profile in held], [
             [1, 1, 1, 1, 0, 1], [1, 1, 0, 1, 1, 0], [1, 1, 0, 0, 0, 0], [1, 1, 0, 1, 0, 0], [0, 0, 0, 0, 0, 0],
         ])
@@ -296,7 +326,8 @@ class StatementCounts(unittest.TestCase):
     def test_refusals(self):
         source = StatementsGone.source
         good = merged(compiled(source), [])
-        for value in odd_values() + [good[:4], list(good), ("profile", 1, good[2][1:], good[3], good[4]), ("profile", True, *good[2:])]:
+        for value in odd_values() + [good[:4], list(good), ("profile", 1, good[2][1:], good[3], good[4]),
+            ("profile", True, *good[2:])]:
             with self.assertRaises(InvalidProfile) as caught:
                 statement_counts(source, value)
             self.assertIs(caught.exception.value, value)
@@ -307,7 +338,8 @@ class Refusals(unittest.TestCase):
 
     def test_what_is_no_source_is_refused_first(self):
         for value in odd_values() + [of_rows([("leave",)]), ("program", [])]:
-            for function, more in [(compiled, ()), (places, ()), (statements_gone, (None,)), (statement_counts, (None,))]:
+            for function, more in [(compiled, ()), (places, ()), (statements_gone, (None,)),
+                (statement_counts, (None,))]:
                 with self.assertRaises(InvalidProgram) as caught:
                     function(value, *more)
                 self.assertIs(caught.exception.value, value)

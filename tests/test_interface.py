@@ -17,7 +17,8 @@ FUNCTIONS = {
         "is_program": ["value"], "first_wrong": ["value"], "edges": ["program"], "led_to": ["program", "edge"],
     },
     "fewprobes.through": {
-        "is_way": ["program", "value"], "stack_behind": ["program", "way"], "leaves": ["program"], "live_edges": ["program"],
+        "is_way": ["program", "value"], "stack_behind": ["program", "way"], "leaves": ["program"],
+        "live_edges": ["program"],
     },
     "fewprobes.runs": {
         "run": ["program", "arguments", "inputs", "most"], "trace": ["program", "arguments", "inputs", "most"],
@@ -30,7 +31,8 @@ FUNCTIONS = {
     "fewprobes.balance": {
         "moves": ["program", "cuts"], "way_places": ["program", "cuts"], "tally": ["program", "ways", "cuts"],
         "edge_counts": ["program", "counts", "cuts"], "misfit": ["program", "counts", "cuts"],
-        "is_tally": ["program", "value", "cuts"], "drawn_up": ["program", "counts", "cuts"], "full_tally": ["program", "cuts"],
+        "is_tally": ["program", "value", "cuts"], "drawn_up": ["program", "counts", "cuts"],
+        "full_tally": ["program", "cuts"],
     },
     "fewprobes.probes": {
         "is_enough": ["program", "probes", "cuts"], "paper": ["program", "probes", "edge", "cuts"],

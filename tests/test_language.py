@@ -197,6 +197,42 @@ class Rules(unittest.TestCase):
                     self.assertIsInstance(right, ast.Constant, place)
                     self.assertTrue(right.value is None or isinstance(right.value, bool), place)
 
+    def test_l7_no_generator_expression_beside_an_eq(self):
+        for node, place in self.each(ast.GeneratorExp, ast.Yield, ast.YieldFrom, ast.Await, ast.AsyncFor):
+            self.fail(place)
+
+    def test_l11_l15_nothing_at_module_level_is_changed_or_handed_on(self):
+        for path, tree in TREES.items():
+            held = {each.targets[0].id for each in tree.body if isinstance(each, ast.Assign)
+                    and isinstance(each.value, (ast.List, ast.Dict))}
+            read = [node for node in ast.walk(tree) if isinstance(node, ast.Name) and node.id in held
+                    and isinstance(node.ctx, ast.Load)]
+            right = [node.value for node in ast.walk(tree) if isinstance(node, (ast.Subscript, ast.Attribute))]
+            right += [each for node in ast.walk(tree) if isinstance(node, ast.Compare) for each in node.comparators]
+            for node in read:
+                self.assertIn(node, right, f"{path.name}:{node.lineno} {node.id}")
+
+    def test_l17_words_that_do_not_occur(self):
+        for path in TREES:
+            for number, line in enumerate(path.read_text(encoding="utf-8").split("\n"), 1):
+                for word in re.findall("[A-Za-z_0-9]+", line.partition("#")[0]):
+                    self.assertNotIn(word, BARRED | {"type"}, f"{path.name}:{number}")
+
+    def test_l18_l26_attributes(self):
+        methods = {each.name for node, place in self.each(ast.ClassDef) for each in node.body
+                   if isinstance(each, ast.FunctionDef)}
+        made = {node.attr for node, place in self.each(ast.Attribute) if isinstance(node.ctx, ast.Store)}
+        self.assertEqual(methods & made, set())
+        taken = {name for kind in [str, list, dict, set, int, bytes, tuple] for name in dir(kind)}
+        self.assertEqual((methods | made) & taken, {"__init__", "__eq__", "copy"})
+        for node, place in self.each(ast.Attribute):
+            self.assertIn(node.attr, methods | made | METHODS, place)
+
+    def test_l23_what_is_iterated_at_once_is_not_kept(self):
+        for node, place in self.each(ast.Assign, ast.Return):
+            if isinstance(node.value, ast.Call) and isinstance(node.value.func, ast.Name):
+                self.assertNotIn(node.value.func.id, ["zip", "enumerate", "reversed", "map", "iter"], place)
+
     def test_l25_methods(self):
         own = {each.name for node, place in self.each(ast.ClassDef) for each in node.body
                if isinstance(each, ast.FunctionDef)}

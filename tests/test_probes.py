@@ -5,12 +5,13 @@ import time
 import unittest
 from fractions import Fraction
 
-from fewprobes.balance import edge_counts, is_tally, moves, tally, way_places
+from fewprobes.balance import drawn_up, edge_counts, is_tally, moves, tally, way_places
 from fewprobes.blocks import edges
 from fewprobes.errors import InvalidEdge, InvalidFlag, InvalidList, InvalidProgram, Unlike
 from fewprobes.probes import (
     cheaper, is_enough, is_least, is_paper, is_parting, least_probes, needed, paper, parted, told_back,
 )
+from fewprobes.through import stack_behind
 from makers import all_ways, chance, rank, some_program, some_way, sums_of
 from samples import each_place, odd_values, of_blocks, swapped, with_put
 
@@ -21,19 +22,22 @@ BOTH = [False, True]
 
 def tried():
     return ("program", [
-        ("main", [], [("d", [("read", "x")], ("try", "y", "f", ("x",), "e", "z", "d")), ("e", [], ("return", "y"))]), TURN,
+        ("main", [], [("d", [("read", "x")], ("try", "y", "f", ("x",), "e", "z", "d")), ("e", [], ("return", "y"))]),
+        TURN,
     ])
 
 
 def server():
-    return ("program", [("serve", [], [("top", [("read", "x")], ("test", "x", "job", "top")), ("job", [("print", "x")], ("go", "top"))])])
+    return ("program", [("serve", [], [("top", [("read", "x")], ("test", "x", "job", "top")),
+        ("job", [("print", "x")], ("go", "top"))])])
 
 
 def twice():
     """main calls f at two blocks, one behind the other, as often as it likes."""
     return ("program", [
         ("main", [], [
-            ("a", [], ("call", "x", "f", (), "b")), ("b", [], ("call", "x", "f", (), "c")), ("c", [], ("test", "x", "a", "d")), ("d", [], END),
+            ("a", [], ("call", "x", "f", (), "b")), ("b", [], ("call", "x", "f", (), "c")),
+            ("c", [], ("test", "x", "a", "d")), ("d", [], END),
         ]),
         ("f", [], [("a", [], END)]),
     ])
@@ -42,7 +46,8 @@ def twice():
 def dead():
     """A program some edges of which stand in no way, and some in no whole one."""
     return ("program", [
-        ("main", [], [("a", [], ("test", "x", "b", "c")), ("b", [], ("call", "x", "g", (), "c")), ("c", [], END), ("u", [], ("go", "c"))]),
+        ("main", [], [("a", [], ("test", "x", "b", "c")), ("b", [], ("call", "x", "g", (), "c")), ("c", [], END),
+            ("u", [], ("go", "c"))]),
         ("g", [], [("a", [], ("test", "x", "a", "b")), ("b", [], ("go", "a"))]), ("h", [], [("a", [], END)]),
     ])
 
@@ -58,7 +63,8 @@ def great(dice, functions, blocks):
             other = dice.choice(labels)
             called = dice.choice(names[k:]) if dice.random() < 0.3 else names[min(k + 1, functions - 1)]
             tested = ("test", "x", labels[j + 1], other)
-            held.append((label, [], tested if j == 0 or called == name else ("try", "x", called, (), labels[j + 1], "y", other)))
+            held.append((label, [], tested if j == 0 or called == name else ("try", "x", called, (), labels[j + 1],
+                "y", other)))
         made.append((name, [], held + [(labels[-2], [], ("test", "x", labels[-1], labels[0])), (labels[-1], [], END)]))
         made[-1][2][0] = (labels[0], [], ("test", "x", labels[1], labels[-1]))
         if dice.random() < 0.5:
@@ -76,7 +82,8 @@ class Seen:
         rows = {tuple(sum(sums_of(program, self.edges, [pair]), [])) for pair in self.ways}
         many = len(self.edges)
         self.rows = [(list(row[many:]), list(row[:many])) for row in sorted(rows)[:300]]
-        self.complete = len(rows) <= 300 and (not self.ways or all(tally(program, [way for way, stack in self.ways], cuts)))
+        self.complete = len(rows) <= 300 and (not self.ways or all(tally(program, [way for way, stack in self.ways],
+            cuts)))
         self.paused = rank([paused for paused, numbers in self.rows])
 
     def freedom(self, probes):
@@ -104,8 +111,10 @@ class Enough(unittest.TestCase):
     def test_of_the_example(self):
         program = tried()
         for probes, whole, cut in [
-            ([], False, False), ([("f", "a", "yes"), ("f", "a", "no")], True, True), ([("main", "d", "call")], False, False),
-            ([("main", "d", "call"), ("f", "a", "no")], True, True), ([("f", "a", "no"), ("f", "c", "raise")], False, False),
+            ([], False, False), ([("f", "a", "yes"), ("f", "a", "no")], True, True),
+            ([("main", "d", "call")], False, False),
+            ([("main", "d", "call"), ("f", "a", "no")], True, True),
+            ([("f", "a", "no"), ("f", "c", "raise")], False, False),
             ([("main", "d", "fault"), ("main", "e", "return")], True, True), (edges(program), True, True),
         ]:
             self.assertIs(is_enough(program, probes, False), whole, probes)
@@ -122,7 +131,8 @@ class Enough(unittest.TestCase):
         judged = []
         for dice, seen in seen_programs(60):
             for _ in range(5):
-                probes = dice.sample(seen.edges, dice.randint(0, min(len(seen.edges), needed(seen.program, seen.cuts) + 1)))
+                probes = dice.sample(seen.edges, dice.randint(0,
+                    min(len(seen.edges), needed(seen.program, seen.cuts) + 1)))
                 judged.append(is_enough(seen.program, probes, seen.cuts))
                 self.assertIs(judged[-1], seen.enough(probes))
         self.assertGreater(judged.count(True), 50)
@@ -177,20 +187,23 @@ class Papers(unittest.TestCase):
             height = {place: Fraction(*h) for place, h in zip(way_places(program, cuts), heights)}
             rest = [Fraction(*mark) for mark in marks]
             for (name, label, way, leaving), led in moves(program, cuts):
-                own = {"value": ["call", "value"], "fault": ["call", "fault"], "waits": ["call"], "stands": []}.get(way, [way])
+                own = {"value": ["call", "value"], "fault": ["call", "fault"], "waits": ["call"],
+                "stands": []}.get(way, [way])
                 gone = [(name, label, word) for word in own]
                 left = (edge in gone) - sum(Fraction(*share) for probe, share in zip(probes, shares) if probe in gone)
                 if way in ("waits", "stands"):
                     left -= rest.pop(0)
                 self.assertEqual(left, height[(name, label, leaving)] - sum(height[place] for place in led))
-            self.assertEqual([height.get(("main", "d", leaving), 0) for leaving in ["value", "fault", "cut"]], [0, 0, 0])
+            self.assertEqual([height.get(("main", "d", leaving), 0) for leaving in ["value", "fault", "cut"]],
+                [0, 0, 0])
 
     def test_shares_that_are_no_whole_numbers(self):
         program = twice()
         for cuts in BOTH:
             self.assertEqual(paper(program, [("f", "a", "return")], ("main", "a", "value"), False)[0], [(1, 2)])
         self.assertIs(is_enough(program, [("main", "c", "yes"), ("f", "a", "return")], False), True)
-        self.assertEqual(paper(program, [("main", "c", "yes"), ("f", "a", "return")], ("main", "d", "return"), False)[0], [(-1, 1), (1, 2)])
+        self.assertEqual(paper(program, [("main", "c", "yes"), ("f", "a", "return")], ("main", "d", "return"),
+            False)[0], [(-1, 1), (1, 2)])
 
     def test_edges_that_stand_in_no_way(self):
         program = dead()
@@ -204,9 +217,11 @@ class Papers(unittest.TestCase):
         for cuts in BOTH:
             right = paper(program, probes, edge, cuts)
             for path in each_place(right):
-                for thing in [None, True, 1, "x", (2, 1), (2, 2), (0, 2), (-1, -1), (1, 0), (True, 1), (1, True), [1, 1], (1,), (1, 1, 1), (), []]:
+                for thing in [None, True, 1, "x", (2, 1), (2, 2), (0, 2), (-1, -1), (1, 0), (True, 1), (1, True),
+                    [1, 1], (1,), (1, 1, 1), (), []]:
                     value = with_put(right, path, thing)
-                    self.assertIs(is_paper(program, probes, edge, value, cuts), repr(value) == repr(right), (path, thing))
+                    self.assertIs(is_paper(program, probes, edge, value, cuts), repr(value) == repr(right),
+                        (path, thing))
                 inner = right
                 for k in path:
                     inner = inner[k]
@@ -229,10 +244,18 @@ class Papers(unittest.TestCase):
         other = ([(1, 1), (1, 2), (-1, 2)], [], list(heights.values()))
         self.assertIs(is_paper(program, probes, edge, other, False), True)
         heights[("main", "e", "value")] = (-1, 2)
-        self.assertIs(is_paper(program, probes, edge, ([(1, 1), (1, 2), (-1, 2)], [], list(heights.values())), False), False)
+        self.assertIs(is_paper(program, probes, edge, ([(1, 1), (1, 2), (-1, 2)], [], list(heights.values())), False),
+            False)
         heights = dict.fromkeys(way_places(program, False), (0, 1))
         heights[("main", "d", "value")] = (1, 1)
         self.assertIs(is_paper(program, probes, edge, (plain[0], [], list(heights.values())), False), False)
+
+
+    def test_heights_of_main_places_are_0(self):
+        program, edge = of_blocks([("a", [], END)]), ("main", "a", "return")
+        self.assertIs(is_paper(program, [edge], edge, ([(1, 1)], [], [(0, 1)]), False), True)
+        self.assertIs(is_paper(program, [edge], edge, ([(0, 1)], [], [(1, 1)]), False), False)
+        self.assertIs(is_paper(program, [], edge, ([], [], [(1, 1)]), False), False)
 
 
 class Parted(unittest.TestCase):
@@ -266,13 +289,37 @@ class Parted(unittest.TestCase):
                 self.assertEqual(n, m)
         self.assertIsNot(one, other)
 
+    def test_ways_drawn_up_from_both_have_the_same_sums_at_probes_alone(self):
+        drawn = 0
+        for seed in range(60):
+            dice = chance(seed)
+            program = some_program(dice)
+            all_edges = edges(program)
+            for cuts in BOTH:
+                probes = dice.sample(all_edges, dice.randint(0, min(len(all_edges), needed(program, cuts))))
+                value = parted(program, probes, cuts)
+                if value is None or max(sum(value[0]), sum(value[1])) > 1000:
+                    continue
+                told = []
+                for counts in value:
+                    ways = drawn_up(program, counts, cuts)
+                    told.append(sums_of(program, all_edges, [(way, stack_behind(program, way)) for way in ways]))
+                (one, waiting, standing), (other, waits, stands) = told
+                self.assertEqual([waiting, standing], [waits, stands])
+                self.assertNotEqual(one, other)
+                for probe in probes:
+                    self.assertEqual(one[all_edges.index(probe)], other[all_edges.index(probe)])
+                drawn += 1
+        self.assertGreater(drawn, 40)
+
     def test_what_is_a_parting(self):
         program, probes = tried(), [("main", "d", "call")]
         one, other = [2, 1, 2, 2, 1, 2, 1], [1, 2, 1, 1, 2, 1, 2]
         self.assertIs(is_parting(program, probes, (one, other), False), True)
         self.assertIs(is_parting(program, [], (one, other), False), True)
         self.assertIs(is_parting(program, [("main", "d", "value")], (one, other), False), False)
-        for value in [(one, one), [one, other], (one,), (one, other, one), (one, other[1:]), (one, tuple(other)), (one, None),
+        for value in [(one, one), [one, other], (one,), (one, other, one), (one, other[1:]), (one, tuple(other)),
+            (one, None),
                       (one, [1, 2, 1, 1, 2, 1, 3]), (one, [True, 2, 1, 1, 2, 1, 2]), ([0, 3, 0, 0, 3, 0, 3], one)]:
             self.assertIs(is_parting(program, probes, value, False), False, value)
         for value in odd_values():
@@ -286,7 +333,8 @@ class Parted(unittest.TestCase):
         self.assertIs(is_parting(program, [], (one, other), True), False)
 
     def test_equal_sums_at_all_edges_part_nothing(self):
-        program = of_blocks([("a", [], ("test", "x", "b", "c")), ("b", [], ("try", "x", "main", (), "c", "x", "d")), ("c", [], END),
+        program = of_blocks([("a", [], ("test", "x", "b", "c")), ("b", [], ("try", "x", "main", (), "c", "x", "d")),
+            ("c", [], END),
                              ("d", [], ("raise", "x"))])
         down = [("main", "a", "yes"), ("main", "b", "call")]
         leaf, up = [("main", "a", "no"), ("main", "c", "return")], [("main", "b", "value"), ("main", "c", "return")]
@@ -329,7 +377,8 @@ def price_of(prices, probes):
 def cheapest(program, prices, cuts):
     """The least sum of prices of edges that are enough, found by trying all sets, None if there is none."""
     held = [price_of(prices, probes) for many in range(len(prices) + 1)
-            for probes in itertools.combinations([edge for edge, price in prices], many) if is_enough(program, list(probes), cuts)]
+            for probes in itertools.combinations([edge for edge, price in prices], many) if is_enough(program,
+                list(probes), cuts)]
     return min(held, default=None)
 
 
@@ -391,19 +440,23 @@ class Least(unittest.TestCase):
 
     def test_ties_and_prices_of_0(self):
         program = tried()
-        prices = [(("main", "d", "value"), 0), (("main", "e", "return"), 0), (("f", "a", "yes"), 0), (("f", "a", "no"), 3), (("f", "c", "raise"), 3)]
+        prices = [(("main", "d", "value"), 0), (("main", "e", "return"), 0), (("f", "a", "yes"), 0),
+            (("f", "a", "no"), 3), (("f", "c", "raise"), 3)]
         self.assertEqual(price_of(prices, least_probes(program, prices, True)), 3)
         for value, right in [
             ([("main", "d", "value"), ("f", "a", "no")], True), ([("main", "d", "value"), ("f", "c", "raise")], True),
             ([("main", "d", "value"), ("main", "e", "return"), ("f", "a", "yes"), ("f", "a", "no")], True),
             ([("f", "a", "no"), ("main", "d", "value")], False), ([("f", "a", "no"), ("f", "c", "raise")], False),
-            ([("main", "d", "value"), ("f", "a", "no"), ("f", "c", "raise")], False), ([("main", "d", "value"), ("main", "d", "call")], False),
-            ([("main", "d", "value"), ("main", "d", "value"), ("f", "a", "no")], False), ((("main", "d", "value"), ("f", "a", "no")), False), ([], False),
+            ([("main", "d", "value"), ("f", "a", "no"), ("f", "c", "raise")], False),
+            ([("main", "d", "value"), ("main", "d", "call")], False),
+            ([("main", "d", "value"), ("main", "d", "value"), ("f", "a", "no")], False),
+            ((("main", "d", "value"), ("f", "a", "no")), False), ([], False),
         ]:
             self.assertIs(is_least(program, prices, value, True), right, value)
         for value in odd_values():
             self.assertIs(is_least(program, prices, value, True), False)
-        self.assertIsNone(cheaper(program, prices, [("main", "d", "value"), ("main", "e", "return"), ("f", "a", "no")], True))
+        self.assertIsNone(cheaper(program, prices, [("main", "d", "value"), ("main", "e", "return"), ("f", "a", "no")],
+            True))
 
     def test_all_together_are_not_enough(self):
         program = tried()
@@ -423,8 +476,10 @@ class Least(unittest.TestCase):
 
     def test_what_is_no_list_of_prices(self):
         program, edge, other = tried(), ("main", "d", "call"), ("f", "a", "no")
-        wrong = [(), [edge], [(edge,)], [(edge, 1, 1)], [[edge, 1]], [(edge, -1)], [(edge, 10 ** 9 + 1)], [(edge, True)], [(edge, None)], [(edge, "1")],
-                 [(edge, 1), (edge, 1)], [(edge, 1), (other, 2), (edge, 3)], [(("main", "d", "go"), 1)], [(list(edge), 1)], [(edge, 1), None],
+        wrong = [(), [edge], [(edge,)], [(edge, 1, 1)], [[edge, 1]], [(edge, -1)], [(edge, 10 ** 9 + 1)],
+            [(edge, True)], [(edge, None)], [(edge, "1")],
+                 [(edge, 1), (edge, 1)], [(edge, 1), (other, 2), (edge, 3)], [(("main", "d", "go"), 1)],
+                 [(list(edge), 1)], [(edge, 1), None],
                  {edge: 1}, [(edge, [1])], [(edge, 1), ((edge,), 2)]]
         for value in odd_values() + wrong:
             if value != []:
@@ -437,7 +492,8 @@ class Least(unittest.TestCase):
     def test_probes_without_a_price(self):
         program = tried()
         prices = [(("main", "d", "call"), 5), (("f", "a", "no"), 3)]
-        for value in odd_values() + [[("main", "d", "value")], [("main", "d", "call")] * 2, (("main", "d", "call"), ("f", "a", "no"))]:
+        for value in odd_values() + [[("main", "d", "value")], [("main", "d", "call")] * 2,
+            (("main", "d", "call"), ("f", "a", "no"))]:
             if value != []:
                 with self.assertRaises(InvalidList) as caught:
                     cheaper(program, prices, value, True)
@@ -475,14 +531,17 @@ class ToldBack(unittest.TestCase):
         with self.assertRaises(Unlike) as caught:
             told_back(program, probes := [], [], [0, 0], [1, 0])
         self.assertIs(caught.exception.value, probes)
-        self.assertEqual(told_back(dead(), [("main", "c", "return")], [6], [0] * 7, [0] * 7), [0, 6, 0, 0, 0, 6, 0, 0, 0, 0, 0])
+        self.assertEqual(told_back(dead(), [("main", "c", "return")], [6], [0] * 7, [0] * 7),
+            [0, 6, 0, 0, 0, 6, 0, 0, 0, 0, 0])
 
     def test_runs_that_were_cut_off_at_once(self):
-        self.assertEqual(told_back(tried(), [("f", "a", "yes"), ("f", "a", "no")], [0, 0], [0] * 5, [3, 0, 0, 0, 0]), [0] * 8)
+        self.assertEqual(told_back(tried(), [("f", "a", "yes"), ("f", "a", "no")], [0, 0], [0] * 5, [3, 0, 0, 0, 0]),
+            [0] * 8)
 
     def test_great_numbers(self):
         n = 10 ** 29
-        self.assertEqual(told_back(tried(), [("main", "d", "value"), ("f", "a", "no")], [n, 2 * n], [0] * 5, [0] * 5), [3 * n, n, 2 * n, n, n, 2 * n, n, 2 * n])
+        self.assertEqual(told_back(tried(), [("main", "d", "value"), ("f", "a", "no")], [n, 2 * n], [0] * 5, [0] * 5),
+            [3 * n, n, 2 * n, n, n, 2 * n, n, 2 * n])
 
     def refused(self, kind, value, *arguments):
         with self.assertRaises(kind) as caught:
@@ -553,7 +612,8 @@ class Great(unittest.TestCase):
 
     def test_as_many_edges_as_may_be(self):
         labels = [f"b{k}" for k in range(40)]
-        blocks = [(label, [], ("try", "x", "main", (), labels[(k + 1) % 40], "y", labels[(7 * k + 1) % 40])) for k, label in enumerate(labels)]
+        blocks = [(label, [], ("try", "x", "main", (), labels[(k + 1) % 40], "y", labels[(7 * k + 1) % 40])) for k,
+            label in enumerate(labels)]
         begin = time.perf_counter()
         program = of_blocks(blocks)
         self.assertEqual([len(edges(program)), needed(program, False), needed(program, True)], [120, 0, 0])
@@ -574,7 +634,8 @@ class Great(unittest.TestCase):
 class Refusals(unittest.TestCase):
     """[2], [30] to [34]"""
 
-    calls = [(is_enough, (None,)), (paper, (None, None)), (is_paper, (None, None, None)), (parted, (None,)), (is_parting, (None, None)),
+    calls = [(is_enough, (None,)), (paper, (None, None)), (is_paper, (None, None, None)), (parted, (None,)),
+        (is_parting, (None, None)),
              (needed, ()), (least_probes, (None,)), (is_least, (None, None)), (cheaper, (None, None))]
 
     def test_programs_ahead_of_flags_ahead_of_the_rest(self):
@@ -592,13 +653,15 @@ class Refusals(unittest.TestCase):
         edge = ("main", "d", "call")
         for value in odd_values() + [(edge,), [edge, edge], [("main", "d", "go")], [list(edge)], [edge, None], edge]:
             if value != []:
-                for function, more in [(is_enough, ()), (paper, (None,)), (is_paper, (None, None)), (parted, ()), (is_parting, (None,))]:
+                for function, more in [(is_enough, ()), (paper, (None,)), (is_paper, (None, None)), (parted, ()),
+                    (is_parting, (None,))]:
                     with self.assertRaises(InvalidList) as caught:
                         function(tried(), value, *more, True)
                     self.assertIs(caught.exception.value, value)
 
     def test_edges(self):
-        for value in odd_values() + [("main", "d", "go"), ["main", "d", "call"], ("main", "d", "waits"), ("main", "d", ["call"])]:
+        for value in odd_values() + [("main", "d", "go"), ["main", "d", "call"], ("main", "d", "waits"),
+            ("main", "d", ["call"])]:
             for function, more in [(paper, ()), (is_paper, (None,))]:
                 with self.assertRaises(InvalidEdge) as caught:
                     function(tried(), [], value, *more, False)

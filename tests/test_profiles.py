@@ -14,13 +14,17 @@ END = ("return", "x")
 def looped():
     """main calls f in a loop; f may call itself, end by a value or by a fault."""
     return ("program", [
-        ("main", [], [("a", [], ("test", "x", "b", "c")), ("b", [], ("try", "x", "f", (), "a", "x", "a")), ("c", [], END)]),
-        ("f", [], [("a", [], ("test", "x", "b", "c")), ("b", [], ("call", "x", "f", (), "d")), ("c", [], ("raise", "x")), ("d", [], END)]),
+        ("main", [], [("a", [], ("test", "x", "b", "c")), ("b", [], ("try", "x", "f", (), "a", "x", "a")),
+            ("c", [], END)]),
+        ("f", [], [("a", [], ("test", "x", "b", "c")), ("b", [], ("call", "x", "f", (), "d")),
+            ("c", [], ("raise", "x")), ("d", [], END)]),
     ])
 
 
-DOWN = [("main", "a", "yes"), ("main", "b", "call"), ("f", "a", "yes"), ("f", "b", "call"), ("f", "a", "yes"), ("f", "b", "call")]
-UP = [("f", "a", "no"), ("f", "c", "raise"), ("f", "b", "fault"), ("f", "b", "fault"), ("main", "b", "fault"), ("main", "a", "no"),
+DOWN = [("main", "a", "yes"), ("main", "b", "call"), ("f", "a", "yes"), ("f", "b", "call"), ("f", "a", "yes"),
+    ("f", "b", "call")]
+UP = [("f", "a", "no"), ("f", "c", "raise"), ("f", "b", "fault"), ("f", "b", "fault"), ("main", "b", "fault"),
+    ("main", "a", "no"),
       ("main", "c", "return")]
 
 
@@ -187,7 +191,8 @@ class PassesAndBegun(unittest.TestCase):
         self.assertEqual(begun(program, both), [("main", 2), ("f", 6)])
 
     def test_a_main_function_that_calls_itself(self):
-        program = of_blocks([("a", [], ("test", "x", "b", "c")), ("b", [], ("call", "x", "main", (), "c")), ("c", [], END)])
+        program = of_blocks([("a", [], ("test", "x", "b", "c")), ("b", [], ("call", "x", "main", (), "c")),
+            ("c", [], END)])
         way = [("main", "a", "yes"), ("main", "b", "call")] * 3
         self.assertEqual(begun(program, recorded(program, way)), [("main", 4)])
         self.assertEqual(begun(program, merged(program, [recorded(program, way)] * 2)), [("main", 8)])
@@ -208,7 +213,8 @@ class Refusals(unittest.TestCase):
 
     def test_what_is_no_program_is_refused_first(self):
         for value in odd_values() + [of_blocks([])]:
-            for function, more in [(is_profile, (None,)), (recorded, (None,)), (merged, (None,)), (without, (None, None)),
+            for function, more in [(is_profile, (None,)), (recorded, (None,)), (merged, (None,)),
+                (without, (None, None)),
                                    (passes, (None,)), (begun, (None,))]:
                 with self.assertRaises(InvalidProgram) as caught:
                     function(value, *more)

@@ -50,7 +50,8 @@ class TheTable(unittest.TestCase):
             ("while x { read x; }", ("while", X, [("read", "x")])), ("while 1 { }", ("while", number(1), [])),
             ("try { read x; } catch z { read y; }", ("try", [("read", "x")], "z", [("read", "y")])),
             ("try { } catch z { }", ("try", [], "z", [])),
-            ("leave;", ("leave",)), ("again;", ("again",)), ("return x;", ("return", X)), ("raise 0;", ("raise", number(0))),
+            ("leave;", ("leave",)), ("again;", ("again",)), ("return x;", ("return", X)),
+            ("raise 0;", ("raise", number(0))),
         ]:
             with self.subTest(text):
                 self.assertEqual(rows_of(text), [statement])
@@ -112,7 +113,8 @@ class TheTable(unittest.TestCase):
     def test_blanks_tabs_line_ends_and_remarks(self):
         close = ("source", [("f", ["a"], [("set", "x", ("plus", number(1), Y))])])
         for text in [
-            "fun f(a){x=1+y;}", "\n\n\tfun \n f\t( a )\n{ x\n=\n1\n+\ny\n;\n}\n\n", "fun f(a){x=1+y;}#", "#a\nfun f(a){x=1+y;}",
+            "fun f(a){x=1+y;}", "\n\n\tfun \n f\t( a )\n{ x\n=\n1\n+\ny\n;\n}\n\n", "fun f(a){x=1+y;}#",
+            "#a\nfun f(a){x=1+y;}",
             "fun#fun g\nf#\n(#(\na#,\n)#)\n{#}\nx#= 2\n=#=\n1#0\n+#-\ny#z\n;#;\n}#}", "fun f(a){x=1+y;}# fun",
             "fun f(a){x=1+y;}\n# the end\n", "# one # two\n## \nfun f(a){x=1+y;}",
         ]:
@@ -143,10 +145,12 @@ class WrongTokens(unittest.TestCase):
 
     def test_the_first_wrong_token(self):
         for text, place in [
-            ("", (1, 1)), ("\n", (2, 1)), (" \t", (1, 3)), ("#", (1, 2)), ("# fun f() { }", (1, 14)), ("#\n\n ", (3, 2)),
+            ("", (1, 1)), ("\n", (2, 1)), (" \t", (1, 3)), ("#", (1, 2)), ("# fun f() { }", (1, 14)),
+            ("#\n\n ", (3, 2)),
             ("x", (1, 1)), ("fun", (1, 4)), ("fun (", (1, 5)), ("fun f {", (1, 7)), ("fun f(,", (1, 7)),
             ("fun f(a b", (1, 9)), ("fun f(a,) { }", (1, 9)), ("fun f() }", (1, 9)), ("fun f()\n\n  x", (3, 3)),
-            ("fun f() { } }", (1, 13)), ("fun f() { }\nread x;", (2, 1)), ("fun f() { } fun", (1, 16)), ("fun f() {", (1, 10)),
+            ("fun f() { } }", (1, 13)), ("fun f() { }\nread x;", (2, 1)), ("fun f() { } fun", (1, 16)),
+            ("fun f() {", (1, 10)),
             ("fun f() { # }", (1, 14)), ("fun f() { # }\n", (2, 1)), ("fun f() { }#\n\t?", (2, 2)),
             ("fun f(fun) { }", (1, 7)), ("fun while() { }", (1, 5)),
         ]:
@@ -155,17 +159,20 @@ class WrongTokens(unittest.TestCase):
 
     def test_in_each_kind_of_statement(self):
         for text, column in [
-            ("x", 2), ("x y", 3), ("x =", 4), ("x = ;", 5), ("x = y", 6), ("x = y y", 7), ("x = y }", 7), ("x = read", 5),
+            ("x", 2), ("x y", 3), ("x =", 4), ("x = ;", 5), ("x = y", 6), ("x = y y", 7), ("x = y }", 7),
+            ("x = read", 5),
             ("x = call", 9), ("x = call (", 10), ("x = call g", 11), ("x = call g;", 11), ("x = call g(", 12),
             ("x = call g(,", 12), ("x = call g(x", 13), ("x = call g(x,)", 14), ("x = call g(x))", 14),
             ("x = call g() + 1;", 14), ("x = call g() }", 14), ("x = 1 + call g();", 9), ("call g();", 1),
             ("read", 5), ("read 1", 6), ("read x", 7), ("read x, y;", 7), ("read (x);", 6), ("read x = 1", 8),
             ("print", 6), ("print ;", 7), ("print x", 8), ("print x, y;", 8), ("print call g();", 7),
             ("if", 3), ("if {", 4), ("if x", 5), ("if x read y;", 6), ("if x { ", 8), ("if x { } else", 14),
-            ("if x { } else read y;", 15), ("if x { } else if y { }", 15), ("if x { } else { } else { }", 19), ("else { }", 1),
+            ("if x { } else read y;", 15), ("if x { } else if y { }", 15), ("if x { } else { } else { }", 19),
+            ("else { }", 1),
             ("if x { }; ", 9), ("if x = y { }", 6),
             ("while", 6), ("while {", 7), ("while x;", 8), ("while x { } else { }", 13),
-            ("try", 4), ("try x", 5), ("try { }", 8), ("try { } read x;", 9), ("try { } catch", 14), ("try { } catch {", 15),
+            ("try", 4), ("try x", 5), ("try { }", 8), ("try { } read x;", 9), ("try { } catch", 14),
+            ("try { } catch {", 15),
             ("try { } catch 1 {", 15), ("try { } catch x", 16), ("try { } catch x;", 16), ("catch x { }", 1),
             ("leave", 6), ("leave x;", 7), ("leave 1;", 7), ("again", 6), ("again }", 7),
             ("return", 7), ("return;", 7), ("return x", 9), ("raise;", 6), ("raise x y;", 9), ("raise }", 7),
@@ -176,8 +183,10 @@ class WrongTokens(unittest.TestCase):
 
     def test_in_expressions(self):
         for text, column in [
-            ("x +", 4), ("x + ;", 5), ("x + + y", 5), ("+ x", 1), ("- 1", 1), ("x over", 7), ("x over over", 8), ("over x", 1),
-            ("x < y < z", 7), ("x == y == z", 8), ("x < y == z", 7), ("x < ", 5), ("(x", 3), ("(x;", 3), ("()", 2), ("(x))", 4),
+            ("x +", 4), ("x + ;", 5), ("x + + y", 5), ("+ x", 1), ("- 1", 1), ("x over", 7), ("x over over", 8),
+            ("over x", 1),
+            ("x < y < z", 7), ("x == y == z", 8), ("x < y == z", 7), ("x < ", 5), ("(x", 3), ("(x;", 3), ("()", 2),
+                ("(x))", 4),
             ("x (y)", 3), ("(x) y", 5), ("x = y", 3), ("x - * y", 5), ("((x) + ", 8), ("x { }", 3), ("x rest 0y", 8),
         ]:
             with self.subTest(text):
@@ -248,7 +257,8 @@ class Limits(unittest.TestCase):
         begin = time.perf_counter()
         for text, many in [
             ("fun f() {" + "x=1;" * 4997 + "}", 4997), ("fun f() {" + "\n" * 19980 + "}", 0), ("fun f(){}" * 2222, 0),
-            ("fun f() { x = 1" + "+1" * 9980 + "; }", 1), ("fun f() { read " + "a" * 30 + "; # " + "#" * 19940 + "\n}", 1),
+            ("fun f() { x = 1" + "+1" * 9980 + "; }", 1),
+            ("fun f() { read " + "a" * 30 + "; # " + "#" * 19940 + "\n}", 1),
         ]:
             self.assertLessEqual(len(text), 20000)
             self.assertEqual(len(lines(text)), many)

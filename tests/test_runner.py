@@ -12,7 +12,8 @@ END = ("return", "x")
 def printing():
     """Reads, counts and prints, without an end unless 9 is read."""
     return of_blocks([
-        ("a", [("read", "x"), ("count", 2), ("print", "x"), ("set", "n", 9), ("deed", "y", "same", "x", "n")], ("test", "y", "b", "a")),
+        ("a", [("read", "x"), ("count", 2), ("print", "x"), ("set", "n", 9), ("deed", "y", "same", "x", "n")],
+            ("test", "y", "b", "a")),
         ("b", [], END),
     ])
 
@@ -20,8 +21,10 @@ def printing():
 def calling():
     """main calls f with what it reads; f prints it and raises it, which main takes."""
     return ("program", [
-        ("main", ["p"], [("a", [("read", "x")], ("try", "y", "f", ("x",), "b", "z", "b")), ("b", [("count", 1)], ("go", "a"))]),
-        ("f", ["n"], [("a", [("print", "n")], ("test", "n", "b", "c")), ("b", [], ("return", "n")), ("c", [], ("raise", "n"))]),
+        ("main", ["p"], [("a", [("read", "x")], ("try", "y", "f", ("x",), "b", "z", "b")),
+            ("b", [("count", 1)], ("go", "a"))]),
+        ("f", ["n"], [("a", [("print", "n")], ("test", "n", "b", "c")), ("b", [], ("return", "n")),
+            ("c", [], ("raise", "n"))]),
     ])
 
 
@@ -32,14 +35,17 @@ class Going(unittest.TestCase):
         runner = Runner(printing(), [], [])
         self.assertIsNone(runner.outcome)
         self.assertEqual(runner.many, 0)
-        self.assertEqual([runner.stack(), runner.printed(), runner.trace(), runner.counters()], [[("main", "a")], [], [], []])
+        self.assertEqual([runner.stack(), runner.printed(), runner.trace(), runner.counters()],
+            [[("main", "a")], [], [], []])
 
     def test_step_by_step(self):
         runner = Runner(printing(), [], [4, 9, 5])
         self.assertIsNone(runner.step())
-        self.assertEqual([runner.many, runner.stack(), runner.printed(), runner.counters()], [1, [("main", "a")], [4], [(2, 1)]])
+        self.assertEqual([runner.many, runner.stack(), runner.printed(), runner.counters()],
+            [1, [("main", "a")], [4], [(2, 1)]])
         self.assertIsNone(runner.step())
-        self.assertEqual([runner.many, runner.stack(), runner.trace()], [2, [("main", "b")], [("main", "a", "no"), ("main", "a", "yes")]])
+        self.assertEqual([runner.many, runner.stack(), runner.trace()],
+            [2, [("main", "b")], [("main", "a", "no"), ("main", "a", "yes")]])
         self.assertIsNone(runner.outcome)
         self.assertEqual(runner.step(), ("value", 9))
         self.assertEqual([runner.outcome, runner.many, runner.stack()], [("value", 9), 3, []])
@@ -77,7 +83,8 @@ class Going(unittest.TestCase):
                 self.assertEqual(runner.outcome, None if outcome == ("on",) else outcome)
                 self.assertEqual(runner.trace(), trace(program, arguments, inputs, most))
                 self.assertEqual(runner.counters(), counters(program, arguments, inputs, most))
-                self.assertEqual(runner.many, len([edge for edge in runner.trace() if edge[2] not in ("value", "fault")]))
+                self.assertEqual(runner.many, len([edge for edge in runner.trace() if edge[2] not in ("value",
+                    "fault")]))
                 self.assertEqual(runner, jumped(program, arguments, inputs, most))
                 self.assertEqual(runner.step(), runner.outcome)
 
@@ -192,7 +199,8 @@ class Equality(unittest.TestCase):
 
     def test_programs(self):
         self.unlike(Runner(printing(), [], []), Runner(of_blocks([("a", [], END)]), [], []))
-        self.unlike(Runner(of_blocks([("a", [], END)]), [], []), Runner(of_blocks([("a", [("set", "x", 0)], END)]), [], []))
+        self.unlike(Runner(of_blocks([("a", [], END)]), [], []),
+            Runner(of_blocks([("a", [("set", "x", 0)], END)]), [], []))
         self.alike(Runner(printing(), [], []), Runner(printing(), [], []))
 
     def test_names_in_each_call(self):

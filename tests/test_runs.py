@@ -25,14 +25,17 @@ def faulting():
     """f tries g, g calls h, h raises 7 times its number; main tries f."""
     return ("program", [
         ("main", ["n"], [
-            ("a", [], ("try", "x", "f", ("n",), "b", "y", "c")), ("b", [("print", "x")], X_END), ("c", [("print", "y")], ("raise", "y")),
+            ("a", [], ("try", "x", "f", ("n",), "b", "y", "c")), ("b", [("print", "x")], X_END),
+            ("c", [("print", "y")], ("raise", "y")),
         ]),
         ("f", ["n"], [
-            ("a", [], ("try", "x", "g", ("n",), "b", "z", "c")), ("b", [], X_END), ("c", [("print", "z"), ("print", "x")], ("return", "z")),
+            ("a", [], ("try", "x", "g", ("n",), "b", "z", "c")), ("b", [], X_END),
+            ("c", [("print", "z"), ("print", "x")], ("return", "z")),
         ]),
         ("g", ["n"], [("a", [("set", "x", 1)], ("call", "x", "h", ("n",), "b")), ("b", [], X_END)]),
         ("h", ["n"], [
-            ("a", [], ("test", "n", "b", "c")), ("b", [("set", "s", 7), ("deed", "n", "times", "n", "s")], ("raise", "n")),
+            ("a", [], ("test", "n", "b", "c")), ("b", [("set", "s", 7), ("deed", "n", "times", "n", "s")],
+                ("raise", "n")),
             ("c", [("set", "x", 5)], X_END),
         ]),
     ])
@@ -43,14 +46,16 @@ def falling():
     def calling(name):
         return [("a", [], ("call", "x", name, (), "b")), ("b", [], X_END)]
     return ("program", [
-        ("main", [], calling("f")), ("f", [], calling("g")), ("g", [], calling("h")), ("h", [], [("a", [], ("raise", "x"))]),
+        ("main", [], calling("f")), ("f", [], calling("g")), ("g", [], calling("h")),
+        ("h", [], [("a", [], ("raise", "x"))]),
     ])
 
 
 def counting():
     """A program that counts, prints and reads without an end."""
     return of_blocks([
-        ("a", [("count", 5), ("read", "x")], ("test", "x", "b", "a")), ("b", [("count", 0), ("count", 999), ("print", "x")], ("go", "a")),
+        ("a", [("count", 5), ("read", "x")], ("test", "x", "b", "a")),
+        ("b", [("count", 0), ("count", 999), ("print", "x")], ("go", "a")),
     ])
 
 
@@ -58,17 +63,20 @@ class Steps(unittest.TestCase):
     """[14], [19]"""
 
     def test_set_and_copy(self):
-        self.assertEqual(run(stepping([("set", "y", -4), ("copy", "x", "y"), ("set", "y", 1)]), [], [], 1)[0], ("value", -4))
+        self.assertEqual(run(stepping([("set", "y", -4), ("copy", "x", "y"), ("set", "y", 1)]), [], [], 1)[0],
+            ("value", -4))
         self.assertEqual(run(stepping([("set", "x", 4), ("copy", "x", "y")]), [], [], 1)[0], ("value", 0))
 
     def test_signs(self):
         for y in range(-4, 5):
             for z in range(-4, 5):
                 quotient = y // z if z else 0
-                self.assertEqual([deed(sign, y, z) for sign in ["plus", "minus", "times", "over", "rest", "less", "same"]], [
+                self.assertEqual([deed(sign, y, z) for sign in ["plus", "minus", "times", "over", "rest", "less",
+                    "same"]], [
                     y + z, y - z, y * z, quotient, y - z * quotient, int(y < z), int(y == z),
                 ])
-        self.assertEqual([deed("rest", 5, 0), deed("over", -7, 2), deed("rest", -7, 2), deed("rest", 7, -2)], [5, -4, 1, -1])
+        self.assertEqual([deed("rest", 5, 0), deed("over", -7, 2), deed("rest", -7, 2), deed("rest", 7, -2)],
+            [5, -4, 1, -1])
         self.assertEqual(deed("times", 10 ** 30 - 1, 10 ** 30 - 1), (10 ** 30 - 1) ** 2)
         self.assertIs(type(deed("less", 1, 2)), int)
 
@@ -76,7 +84,8 @@ class Steps(unittest.TestCase):
         self.assertEqual(run(stepping([("deed", "x", "plus", "x", "x")], ["x"]), [4], [], 1)[0], ("value", 8))
 
     def test_read_and_print(self):
-        program = stepping([("read", "x"), ("print", "x"), ("read", "y"), ("print", "y"), ("read", "x"), ("print", "x")])
+        program = stepping([("read", "x"), ("print", "x"), ("read", "y"), ("print", "y"), ("read", "x"),
+            ("print", "x")])
         self.assertEqual(run(program, [], [3, -1], 1), (("value", 0), [], [3, -1, 0]))
         self.assertEqual(run(program, [], [3, -1, 9, 8], 1), (("value", 9), [], [3, -1, 9]))
 
@@ -98,16 +107,20 @@ class Ends(unittest.TestCase):
 
     def test_go_and_test(self):
         program = of_blocks([
-            ("a", [], ("go", "b")), ("b", [], ("test", "n", "c", "d")), ("c", [], ("raise", "n")), ("d", [], ("return", "n")),
+            ("a", [], ("go", "b")), ("b", [], ("test", "n", "c", "d")), ("c", [], ("raise", "n")),
+            ("d", [], ("return", "n")),
         ], parameters=["n"])
         for n, kind, way in [(0, "value", "no"), (1, "fault", "yes"), (-1, "fault", "yes")]:
             self.assertEqual(run(program, [n], [], 9), ((kind, n), [], []))
-            self.assertEqual([edge[2] for edge in trace(program, [n], [], 9)], ["go", way, {"value": "return", "fault": "raise"}[kind]])
+            self.assertEqual([edge[2] for edge in trace(program, [n], [], 9)],
+                ["go", way, {"value": "return", "fault": "raise"}[kind]])
 
     def test_a_call_hands_over_and_takes_back(self):
         program = ("program", [
-            ("main", ["p", "q"], [("a", [], ("call", "p", "f", ("q", "p", "z"), "b")), ("b", [("print", "p"), ("print", "q")], ("return", "a"))]),
-            ("f", ["a", "b", "c"], [("a", [("print", "a"), ("print", "b"), ("print", "c"), ("set", "q", 9), ("set", "a", 6)], ("return", "a"))]),
+            ("main", ["p", "q"], [("a", [], ("call", "p", "f", ("q", "p", "z"), "b")),
+                ("b", [("print", "p"), ("print", "q")], ("return", "a"))]),
+            ("f", ["a", "b", "c"], [("a", [("print", "a"), ("print", "b"), ("print", "c"), ("set", "q", 9),
+                ("set", "a", 6)], ("return", "a"))]),
         ])
         self.assertEqual(run(program, [1, 2], [], 9), (("value", 0), [], [2, 1, 0, 6, 2]))
         self.assertEqual(trace(program, [1, 2], [], 9), [
@@ -118,7 +131,8 @@ class Ends(unittest.TestCase):
         program = faulting()
         self.assertEqual(run(program, [3], [], 99), (("value", 21), [], [21, 0, 21]))
         self.assertEqual(trace(program, [3], [], 99), [
-            ("main", "a", "call"), ("f", "a", "call"), ("g", "a", "call"), ("h", "a", "yes"), ("h", "b", "raise"), ("g", "a", "fault"),
+            ("main", "a", "call"), ("f", "a", "call"), ("g", "a", "call"), ("h", "a", "yes"), ("h", "b", "raise"),
+            ("g", "a", "fault"),
             ("f", "a", "fault"), ("f", "c", "return"), ("main", "a", "value"), ("main", "b", "return"),
         ])
         self.assertEqual(run(program, [0], [], 99), (("value", 5), [], [5]))
@@ -128,29 +142,35 @@ class Ends(unittest.TestCase):
     def test_a_fault_that_nothing_takes(self):
         self.assertEqual(run(falling(), [], [], 9), (("fault", 0), [], []))
         self.assertEqual([edge[:1] + edge[2:] for edge in trace(falling(), [], [], 4)], [
-            ("main", "call"), ("f", "call"), ("g", "call"), ("h", "raise"), ("g", "fault"), ("f", "fault"), ("main", "fault"),
+            ("main", "call"), ("f", "call"), ("g", "call"), ("h", "raise"), ("g", "fault"), ("f", "fault"),
+            ("main", "fault"),
         ])
 
     def test_the_main_function_called_by_itself(self):
         program = ("program", [("f", ["n"], [
-            ("a", [("set", "one", 1)], ("test", "n", "b", "c")), ("b", [("deed", "m", "minus", "n", "one")], ("call", "x", "f", ("m",), "d")),
+            ("a", [("set", "one", 1)], ("test", "n", "b", "c")),
+            ("b", [("deed", "m", "minus", "n", "one")], ("call", "x", "f", ("m",), "d")),
             ("c", [], ("raise", "n")), ("d", [], X_END),
         ]), ("g", [], [("a", [], X_END)])])
         self.assertEqual(run(program, [3], [], 5), (("on",), [("f", "b")] * 2 + [("f", "b")], []))
         self.assertEqual(run(program, [3], [], 9)[0], ("fault", 0))
-        self.assertEqual(trace(program, [2], [], 9)[-3:], [("f", "c", "raise"), ("f", "b", "fault"), ("f", "b", "fault")])
+        self.assertEqual(trace(program, [2], [], 9)[-3:],
+            [("f", "c", "raise"), ("f", "b", "fault"), ("f", "b", "fault")])
 
     def test_the_value_is_put_into_its_name_alone(self):
         program = ("program", [
-            ("main", [], [("a", [], ("try", "x", "f", (), "b", "y", "b")), ("b", [("print", "x"), ("print", "y")], X_END)]),
-            ("f", [], [("a", [("read", "x"), ("read", "y")], ("test", "x", "b", "c")), ("b", [], ("return", "y")), ("c", [], ("raise", "y"))]),
+            ("main", [], [("a", [], ("try", "x", "f", (), "b", "y", "b")),
+                ("b", [("print", "x"), ("print", "y")], X_END)]),
+            ("f", [], [("a", [("read", "x"), ("read", "y")], ("test", "x", "b", "c")), ("b", [], ("return", "y")),
+                ("c", [], ("raise", "y"))]),
         ])
         self.assertEqual(run(program, [], [1, 8], 9)[2], [8, 0])
         self.assertEqual(run(program, [], [0, 8], 9)[2], [0, 8])
 
     def test_both_names_of_a_try_may_be_one(self):
         program = ("program", [
-            ("main", [], [("a", [], ("try", "x", "f", (), "b", "x", "b")), ("b", [], X_END)]), ("f", [], [("a", [("set", "x", 3)], ("raise", "x"))]),
+            ("main", [], [("a", [], ("try", "x", "f", (), "b", "x", "b")), ("b", [], X_END)]),
+            ("f", [], [("a", [("set", "x", 3)], ("raise", "x"))]),
         ])
         self.assertEqual(run(program, [], [], 9)[0], ("value", 3))
 
@@ -172,7 +192,8 @@ class Bounds(unittest.TestCase):
         outcome, stack, printed = run(program, [], [], 20000)
         self.assertEqual([outcome, stack, printed], [("on",), [("main", "a")] * 20001, []])
         down = of_blocks([
-            ("a", [("set", "e", 1), ("deed", "n", "minus", "n", "e")], ("test", "n", "b", "c")), ("b", [], ("call", "x", "main", ("n",), "a")),
+            ("a", [("set", "e", 1), ("deed", "n", "minus", "n", "e")], ("test", "n", "b", "c")),
+            ("b", [], ("call", "x", "main", ("n",), "a")),
             ("c", [], ("raise", "n")),
         ], parameters=["n"])
         self.assertEqual(run(down, [10000], [], 20000)[0], ("fault", 0))
@@ -191,7 +212,8 @@ class Bounds(unittest.TestCase):
             for most in [0, 1, 2, 3, 10, 60]:
                 told = stepped(program, arguments, inputs, most)
                 stack = list(told.state[0])
-                self.assertEqual(run(program, arguments, inputs, most), (told.outcome or ("on",), stack, told.printed), seed)
+                self.assertEqual(run(program, arguments, inputs, most), (told.outcome or ("on",), stack, told.printed),
+                    seed)
                 self.assertEqual(trace(program, arguments, inputs, most), told.way)
                 self.assertEqual(counters(program, arguments, inputs, most), sorted(told.counts.items()))
                 self.assertIs(is_way(program, told.way), True)
@@ -216,7 +238,8 @@ class Counts(unittest.TestCase):
 
     def test_refusals(self):
         program = full_program()
-        for way in odd_values() + [tuple(edges(program)), [("main", "top", "go")], edges(program) + [None], [list(edges(program)[0])]]:
+        for way in odd_values() + [tuple(edges(program)), [("main", "top", "go")], edges(program) + [None],
+            [list(edges(program)[0])]]:
             if way != []:
                 with self.assertRaises(InvalidList) as caught:
                     counts(program, way)

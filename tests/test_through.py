@@ -43,11 +43,13 @@ class Ways(unittest.TestCase):
     def test_cut_off_behind_each_edge(self):
         stacks = [
             [("main", "a")], [("main", "a"), ("f", "a")], [("main", "a"), ("f", "b")],
-            [("main", "a"), ("f", "b"), ("g", "t")], [("main", "a"), ("f", "b"), ("g", "w")], None, None, [("main", "d")], [],
+            [("main", "a"), ("f", "b"), ("g", "t")], [("main", "a"), ("f", "b"), ("g", "w")], None, None,
+            [("main", "d")], [],
         ]
         for many, stack in enumerate(stacks):
             self.judge(tower(), HIGH[:many], stack)
-        stacks = stacks[:4] + [[("main", "a"), ("f", "b"), ("g", "v")], None, [("main", "a"), ("f", "c")], None, [("main", "c")], []]
+        stacks = stacks[:4] + [[("main", "a"), ("f", "b"), ("g", "v")], None, [("main", "a"), ("f", "c")], None,
+            [("main", "c")], []]
         for many, stack in enumerate(stacks):
             self.judge(tower(), LOW[:many], stack)
 
@@ -93,7 +95,8 @@ class Ways(unittest.TestCase):
         self.judge(program, HIGH[:4] + [("f", "b", "fault")], None)
 
     def test_a_fault_ends_a_main_function_that_calls(self):
-        program = ("program", [("m", [], [("a", [], ("call", "x", "f", (), "a"))]), ("f", [], [("a", [], ("raise", "x"))])])
+        program = ("program", [("m", [], [("a", [], ("call", "x", "f", (), "a"))]),
+            ("f", [], [("a", [], ("raise", "x"))])])
         self.judge(program, [("m", "a", "call"), ("f", "a", "raise"), ("m", "a", "fault")], [])
         self.judge(program, [("m", "a", "call"), ("f", "a", "raise")], None)
 
@@ -112,7 +115,8 @@ class Ways(unittest.TestCase):
         begin = time.perf_counter()
         way = [("main", "a", "yes"), ("main", "b", "call")] * 10000
         self.judge(program, way, [("main", "b")] * 10000 + [("main", "a")])
-        way = way[:10000] + [("main", "a", "no"), ("main", "c", "return")] + [("main", "b", "value"), ("main", "c", "return")] * 4999
+        way = way[:10000] + [("main", "a", "no"), ("main", "c", "return")] + [("main", "b", "value"),
+            ("main", "c", "return")] * 4999
         self.judge(program, way, None)
         self.judge(program, way + [("main", "b", "value")], [("main", "c")])
         loop = of_blocks([("a", [], ("go", "a"))])
@@ -149,7 +153,8 @@ class Ways(unittest.TestCase):
         program = tower()
         for value in odd_values() + [
             tuple(LOW), [list(LOW[0])], [("main", "a", "go")], [("main", "a")], [("main", "a", "call", "x")],
-            [("main", "a", ["call"])], [("main", "a", {})], LOW[:2] + [None], LOW[:2] + [1], {LOW[0]: True}, [LOW], LOW[0],
+            [("main", "a", ["call"])], [("main", "a", {})], LOW[:2] + [None], LOW[:2] + [1], {LOW[0]: True}, [LOW],
+            LOW[0],
         ]:
             if value != []:
                 self.judge(program, value, None)
@@ -178,7 +183,8 @@ class WhatEnds(unittest.TestCase):
             ("try", "v", (True, False)), ("try", "w", (False, False)), ("try", "n", (False, False)),
             ("call", "main", (False, False)), ("try", "main", (False, False)),
         ]:
-            program = ("program", [("main", [], calling(word, other))] + ([(other, [], ends[other])] if other in ends else []))
+            program = ("program", [("main", [], calling(word, other))] + ([(other, [],
+                ends[other])] if other in ends else []))
             self.assertEqual(leaves(program)[0], ("main", *flags), (word, other))
 
     def test_a_try_that_raises_again(self):
@@ -210,14 +216,16 @@ class WhatEnds(unittest.TestCase):
         self.assertEqual(live_edges(tower()), edges(tower()))
         program = ("program", [
             ("main", [], [
-                ("a", [], ("test", "x", "b", "c")), ("b", [], ("go", "b")), ("c", [], ("try", "x", "f", (), "d", "y", "e")),
+                ("a", [], ("test", "x", "b", "c")), ("b", [], ("go", "b")),
+                ("c", [], ("try", "x", "f", (), "d", "y", "e")),
                 ("d", [], END), ("e", [], END), ("u", [], ("go", "d")), ("v", [], ("call", "x", "n", (), "d")),
             ]),
             ("f", [], [("a", [], ("test", "x", "b", "c")), ("b", [], END), ("c", [], ("call", "x", "n", (), "b"))]),
             ("n", [], [("a", [], ("go", "a"))]),
         ])
         self.assertEqual(live_edges(program), [
-            ("main", "a", "no"), ("main", "c", "call"), ("main", "c", "value"), ("main", "d", "return"), ("f", "a", "yes"),
+            ("main", "a", "no"), ("main", "c", "call"), ("main", "c", "value"), ("main", "d", "return"),
+            ("f", "a", "yes"),
             ("f", "b", "return"),
         ])
 
