@@ -91,8 +91,8 @@ def onward_moves(grammar):
         if move.way not in PAUSES and grammar.flow.target_of[grammar.flow.number_at[(move.block, move.way)]] != NONE:
             # The last place to which a move leads is the one that goes on in the same call.
             moves.append(Move(move.block, move.way, move.leaving, move.leads[-1:]))
-    leavings = range(how_many_leavings(grammar.cuts))
-    firsts = [place_of(first, leaving) for first in grammar.flow.firsts for leaving in leavings]
+    many = how_many_leavings(grammar.cuts)
+    firsts = [place_of(first, leaving) for first in grammar.flow.firsts for leaving in range(many)]
     return reached_from([place for place in firsts if place in grammar.places], moves_at(moves))
 
 
