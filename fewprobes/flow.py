@@ -61,17 +61,27 @@ def flow_of(program):
 
 def edge_number(flow, value):
     """The number of an edge, NONE if a value is none."""
-    # What is handed in may hold lists, which are no keys of a dict.
-    if not isinstance(value, tuple) or not all([isinstance(word, str) for word in value]):
-        return NONE
-    return flow.edge_at.get(value, NONE)
+    return number_in(flow.edge_at, value)
 
 
 def edge_numbers(flow, value):
     """The numbers of the edges in a list, None unless a value is a list of edges."""
+    return numbers_in(flow.edge_at, value)
+
+
+def number_in(table, value):
+    """The number that a dict has for a tuple of words, NONE if a value is none of these."""
+    # What is handed in may hold lists, which are no keys of a dict.
+    if not isinstance(value, tuple) or not all([isinstance(word, str) for word in value]):
+        return NONE
+    return table.get(value, NONE)
+
+
+def numbers_in(table, value):
+    """The numbers that a dict has for the tuples of words in a list, None unless a value is a list of these."""
     if not isinstance(value, list):
         return None
-    numbers = [edge_number(flow, edge) for edge in value]
+    numbers = [number_in(table, item) for item in value]
     return None if NONE in numbers else numbers
 
 

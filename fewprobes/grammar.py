@@ -27,12 +27,8 @@ class Grammar:
     def __init__(self, flow, cuts):
         self.flow = flow
         self.cuts = cuts
-        self.mains = [place_of(flow.firsts[0], leaving) for leaving in range(how_many_leavings(cuts))]
-        moves = all_moves(flow, cuts)
-        endings = endings_of(moves)
-        moves = [move for move in moves if all([lead in endings for lead in move.leads])]
-        reached = reached_from(self.mains, moves_at(moves))
-        self.moves = [move for move in moves if move.place in reached]
+        self.mains = main_places(flow, cuts)
+        self.moves = moves_of_ways(all_moves(flow, cuts), self.mains)
         self.places = sorted(set([move.place for move in self.moves]))
         self.move_at = {(move.place, move.way): number for number, move in enumerate(self.moves)}
 
@@ -40,9 +36,27 @@ class Grammar:
 def grammar_of(program, cuts):
     """The grammar of what is handed in as a program, with what is handed in as a flag."""
     flow = flow_of(program)
-    if not isinstance(cuts, bool):
-        raise InvalidFlag(cuts)
+    check_flag(cuts)
     return Grammar(flow, cuts)
+
+
+def check_flag(value):
+    """Refuses whatever is neither True nor False."""
+    if not isinstance(value, bool):
+        raise InvalidFlag(value)
+
+
+def main_places(flow, cuts):
+    """The places at which ways begin that count."""
+    return [place_of(flow.firsts[0], leaving) for leaving in range(how_many_leavings(cuts))]
+
+
+def moves_of_ways(moves, mains):
+    """Those of moves that some way makes which begins at one of these places and makes no others."""
+    endings = endings_of(moves)
+    ending = [move for move in moves if all([lead in endings for lead in move.leads])]
+    reached = reached_from(mains, moves_at(ending))
+    return [move for move in ending if move.place in reached]
 
 
 def place_of(block, leaving):

@@ -42,6 +42,22 @@ FUNCTIONS = {
         "cheaper": ["program", "prices", "probes", "cuts"],
         "told_back": ["program", "probes", "numbers", "waiting", "standing"],
     },
+    "fewprobes.alive": {
+        "marks": ["program"], "live": ["program", "gone", "cuts"], "shortest_way": ["program", "mark", "gone", "cuts"],
+    },
+    "fewprobes.coverage": {
+        "is_coverage": ["program", "value", "cuts"], "ways_over": ["program", "covered", "cuts"],
+        "implied": ["program", "mark", "cuts"],
+    },
+    "fewprobes.cover": {
+        "is_shown": ["program", "probes", "edge", "cuts"], "unshown": ["program", "probes", "edge", "cuts"],
+        "shows_all": ["program", "probes", "cuts"], "classes": ["program", "cuts"],
+        "needed_classes": ["program", "cuts"], "least_cover": ["program", "prices", "cuts"],
+    },
+    "fewprobes.seen": {
+        "seen_in": ["program", "probes", "profile"], "seen_back": ["program", "probes", "seen"],
+        "fitting": ["program", "probes", "seen", "edge", "flag"],
+    },
 }
 RUNNER = {
     "__init__": ["program", "arguments", "inputs"], "step": [], "go": ["most"], "stack": [], "printed": [], "trace": [],

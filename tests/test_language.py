@@ -34,7 +34,9 @@ METHODS = set("""
 BARRED = set("""
     register mro elements open input law version_info with_traceback add_note attrgetter breakpoint compile copyright
     credits delattr dir eval exec exit gc globals help id importlib license locals methodcaller os quit vars sys
-    typing typing_extensions enum Enum IntEnum StrEnum Flag IntFlag Generic Protocol ABC ABCMeta namedtuple NamedTuple
+""".split())
+UNWRITTEN = set("""
+    type typing typing_extensions enum Enum IntEnum StrEnum Flag IntFlag Generic Protocol ABC ABCMeta namedtuple NamedTuple
     TypedDict TYPE_CHECKING abstractmethod
 """.split())
 STATEMENTS = (
@@ -216,7 +218,12 @@ class Rules(unittest.TestCase):
         for path in TREES:
             for number, line in enumerate(path.read_text(encoding="utf-8").split("\n"), 1):
                 for word in re.findall("[A-Za-z_0-9]+", line.partition("#")[0]):
-                    self.assertNotIn(word, BARRED | {"type"}, f"{path.name}:{number}")
+                    self.assertNotIn(word, UNWRITTEN, f"{path.name}:{number}")
+
+    def test_l17_words_that_name_nothing(self):
+        for node, place in self.each(ast.Name, ast.Attribute, ast.keyword, ast.arg):
+            name = {ast.Name: "id", ast.Attribute: "attr"}.get(type(node), "arg")
+            self.assertNotIn(getattr(node, name), BARRED | UNWRITTEN, place)
 
     def test_l18_l26_attributes(self):
         methods = {each.name for node, place in self.each(ast.ClassDef) for each in node.body

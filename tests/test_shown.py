@@ -84,6 +84,33 @@ server = ("program", [("serve", [], [("top", [("read", "x")], ("test", "x", "job
 [needed(server, False), needed(server, True), told_back(server, [("serve", "top", "yes"), ("serve", "top", "no")], [4, 9], [0, 0], [0, 1])]
 # [0, 2, [4, 9, 3]]
 """
+COVERAGE = r"""
+from fewprobes.alive import live, marks, shortest_way
+from fewprobes.coverage import implied, is_coverage
+from fewprobes.cover import classes, is_shown, least_cover, needed_classes, unshown
+from fewprobes.seen import fitting, seen_back
+turn = ("f", ["n"], [("a", [], ("test", "n", "b", "c")), ("b", [], ("return", "n")), ("c", [], ("raise", "n"))])
+main = ("main", [], [("d", [("read", "x")], ("try", "y", "f", ("x",), "e", "z", "d")), ("e", [], ("return", "y"))])
+program = ("program", [main, turn])
+marks(program)[8:]
+# [('main', 'd', 'waits'), ('main', 'd', 'stands'), ('main', 'e', 'stands'), ('f', 'a', 'stands'), ('f', 'b', 'stands'), ('f', 'c', 'stands')]
+[shortest_way(program, ("f", "c", "raise"), [], True), live(program, [("f", "a", "yes")], False)]
+# [[('main', 'd', 'call'), ('f', 'a', 'no'), ('f', 'c', 'raise'), ('main', 'd', 'fault')], []]
+[implied(program, ("main", "e", "stands"), True), is_coverage(program, [("main", "d", "stands")], True)]
+# [[('main', 'd', 'call'), ('main', 'd', 'value'), ('f', 'a', 'yes'), ('f', 'b', 'return'), ('main', 'e', 'stands')], True]
+classes(program, False)
+# [[('main', 'd', 'call'), ('main', 'd', 'value'), ('main', 'e', 'return'), ('f', 'a', 'yes'), ('f', 'b', 'return')], [('main', 'd', 'fault'), ('f', 'a', 'no'), ('f', 'c', 'raise')]]
+needed_classes(program, True)
+# [[('main', 'd', 'fault'), ('f', 'c', 'raise')], [('main', 'e', 'return')]]
+[is_shown(program, [("main", "e", "return")], ("f", "a", "no"), True), unshown(program, [("main", "e", "return")], ("main", "e", "return"), True)]
+# [False, None]
+least_cover(program, [(("f", "c", "raise"), 3), (("main", "d", "fault"), 2), (("main", "e", "return"), 5)], True)
+# [('main', 'd', 'fault'), ('main', 'e', 'return')]
+seen_back(program, [("main", "e", "return"), ("f", "c", "raise")], [("f", "c", "raise"), ("main", "d", "stands")])
+# ['yes', 'no', 'yes', 'no', 'no', 'yes', 'no', 'yes']
+[seen_back(program, [("main", "e", "return")], [("main", "d", "stands")]), fitting(program, [("main", "e", "return")], [("main", "d", "stands")], ("f", "a", "no"), False)]
+# [['open', 'no', 'open', 'no', 'no', 'open', 'no', 'open'], [('main', 'd', 'stands')]]
+"""
 
 
 class Shown(unittest.TestCase):
@@ -117,3 +144,6 @@ class Shown(unittest.TestCase):
 
     def test_probes(self):
         self.check(PROBES)
+
+    def test_coverage(self):
+        self.check(COVERAGE)
