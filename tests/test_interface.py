@@ -58,10 +58,28 @@ FUNCTIONS = {
         "seen_in": ["program", "probes", "profile"], "seen_back": ["program", "probes", "seen"],
         "fitting": ["program", "probes", "seen", "edge", "flag"],
     },
+    "fewprobes.rebuild": {
+        "rebuilt": ["program", "probes"], "meant": ["program", "probes", "stack"],
+        "counted": ["program", "probes", "counters", "stack"], "flagged": ["program", "probes", "counters", "stack"],
+        "overhead": ["program", "probes", "numbers"],
+    },
+    "fewprobes.edits": {
+        "in_step": ["program", "other"], "lots": ["program", "other", "profile"],
+        "carried": ["program", "other", "profile"],
+    },
+    "fewprobes.listings": {
+        "listing": ["text", "profile"], "unrun_lines": ["text", "profile"], "ranked": ["program", "profile"],
+    },
 }
 RUNNER = {
     "__init__": ["program", "arguments", "inputs"], "step": [], "go": ["most"], "stack": [], "printed": [], "trace": [],
     "counters": [], "copy": [], "__eq__": ["other"],
+}
+BENCH = {
+    "__init__": ["program"], "program": [], "prices": [], "probes": [], "takings": [], "__len__": [],
+    "__contains__": ["edge"], "price": ["edge", "price"], "choose": ["probes"], "choose_least": ["sums", "cuts"],
+    "edit": ["program", "probes"], "record": ["arguments", "inputs", "most"], "record_way": ["way"],
+    "take": ["other"], "sums": [], "seen": [], "undo": [], "redo": [], "log": [], "copy": [], "__eq__": ["other"],
 }
 
 
@@ -94,9 +112,18 @@ class TheInterface(unittest.TestCase):
                 self.assertEqual(str(inspect.signature(getattr(module, name))), "()")
 
     def test_runner_has_its_methods_in_its_own_body(self):
-        kind = importlib.import_module("fewprobes.runs").Runner
-        self.assertEqual([kind.__module__, kind.__bases__], ["fewprobes.runs", (object,)])
-        for name, arguments in RUNNER.items():
+        self.check_class("fewprobes.runs", "Runner", RUNNER)
+
+    def test_bench_has_its_methods_in_its_own_body(self):
+        kind = self.check_class("fewprobes.bench", "Bench", BENCH)
+        cuts = inspect.signature(kind.choose_least).parameters["cuts"]
+        self.assertEqual([cuts.kind, cuts.default], [inspect.Parameter.KEYWORD_ONLY, True])
+
+    def check_class(self, module, word, methods):
+        kind = getattr(importlib.import_module(module), word)
+        self.assertEqual([kind.__module__, kind.__bases__], [module, (object,)])
+        for name, arguments in methods.items():
             with self.subTest(name):
                 self.assertIn(name, vars(kind))
                 self.assertEqual(list(inspect.signature(vars(kind)[name]).parameters), ["self", *arguments])
+        return kind

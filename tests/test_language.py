@@ -231,7 +231,7 @@ class Rules(unittest.TestCase):
         made = {node.attr for node, place in self.each(ast.Attribute) if isinstance(node.ctx, ast.Store)}
         self.assertEqual(methods & made, set())
         taken = {name for kind in [str, list, dict, set, int, bytes, tuple] for name in dir(kind)}
-        self.assertEqual((methods | made) & taken, {"__init__", "__eq__", "copy"})
+        self.assertEqual((methods | made) & taken, {"__init__", "__eq__", "__len__", "__contains__", "copy"})
         for node, place in self.each(ast.Attribute):
             self.assertIn(node.attr, methods | made | METHODS, place)
 

@@ -111,6 +111,65 @@ seen_back(program, [("main", "e", "return"), ("f", "c", "raise")], [("f", "c", "
 [seen_back(program, [("main", "e", "return")], [("main", "d", "stands")]), fitting(program, [("main", "e", "return")], [("main", "d", "stands")], ("f", "a", "no"), False)]
 # [['open', 'no', 'open', 'no', 'no', 'open', 'no', 'open'], [('main', 'd', 'stands')]]
 """
+REBUILD = r"""
+from fewprobes.rebuild import counted, flagged, meant, overhead, rebuilt
+from fewprobes.runs import counters, run
+turn = ("f", ["n"], [("a", [], ("test", "n", "b", "c")), ("b", [], ("return", "n")), ("c", [], ("raise", "n"))])
+main = ("main", [], [("d", [("read", "x")], ("call", "y", "f", ("x",), "e")), ("e", [], ("return", "y"))])
+program = ("program", [main, turn])
+probes = [("f", "a", "no"), ("main", "d", "fault"), ("f", "b", "return")]
+made = rebuilt(program, probes)
+made[1][0]
+# ('main', [], [('d', [('read', 'x')], ('try', 'y', 'f', ('x',), 'e', 'c0', 'c0')), ('e', [], ('return', 'y')), ('c0', [('count', 1)], ('raise', 'c0'))])
+made[1][1]
+# ('f', ['n'], [('a', [], ('test', 'n', 'b', 'c0')), ('b', [('count', 2)], ('return', 'n')), ('c', [], ('raise', 'n')), ('c0', [('count', 0)], ('go', 'c'))])
+[run(program, [], [0], 9), run(made, [], [0], 9), counters(made, [], [0], 9)]
+# [(('fault', 0), [], []), (('fault', 0), [], []), [(0, 1), (1, 1)]]
+[run(made, [], [0], 2)[1], meant(program, probes, run(made, [], [0], 2)[1]), run(program, [], [0], 2)[1]]
+# [[('main', 'd'), ('f', 'c0')], ([('main', 'd'), ('f', 'c')], [('f', 'a', 'no')]), [('main', 'd'), ('f', 'c')]]
+[run(made, [], [0], 4)[1], meant(program, probes, run(made, [], [0], 4)[1]), run(program, [], [0], 3)[1]]
+# [[('main', 'c0')], ([], [('main', 'd', 'fault')]), []]
+[counted(program, probes, counters(made, [], [0], 4), [("main", "c0")]), flagged(program, probes, counters(made, [], [0], 2), [("main", "d"), ("f", "c0")])]
+# [[1, 1, 0], [('f', 'a', 'no'), ('main', 'd', 'waits'), ('f', 'c', 'stands')]]
+overhead(program, probes, [1, 1, 0])
+# (2, 2)
+"""
+EDITS = r"""
+from fewprobes.compiler import compiled
+from fewprobes.edits import carried, in_step, lots
+from fewprobes.listings import listing, ranked, unrun_lines
+from fewprobes.profiles import recorded
+from fewprobes.readings import read_source
+from fewprobes.runs import trace
+old = ("program", [("main", [], [("a", [("read", "x")], ("test", "x", "b", "c")), ("b", [("print", "x")], ("go", "a")), ("c", [], ("return", "x"))])])
+new = ("program", [("main", [], [("a", [("read", "x")], ("test", "x", "b", "c")), ("b", [("print", "x")], ("go", "d")), ("c", [], ("raise", "x")), ("d", [("read", "x")], ("test", "x", "b", "c"))])])
+in_step(old, new)
+# [('main', 'a', 'main', 'a', True), ('main', 'a', 'main', 'd', True), ('main', 'b', 'main', 'b', True), ('main', 'c', 'main', 'c', False)]
+lots(old, new, recorded(old, trace(old, [], [5, 7, 0], 5)))
+# [([('main', 'a', 'yes'), ('main', 'd', 'yes')], 2), ([('main', 'a', 'no'), ('main', 'd', 'no')], 1), ([('main', 'b', 'go')], 2), ([('main', 'c', 'raise')], 0)]
+carried(old, ("program", [old[1][0], ("f", [], [("x", [], ("return", "x"))])]), recorded(old, trace(old, [], [5, 7], 9)))
+# ('profile', 1, [2, 1, 2, 1, 0], [0, 0, 0, 0], [0, 0, 0, 0])
+text = "fun main() {\n  read x; while x {\n    print x;\n    read x;\n  }\n  if x { print 9; }\n}\n"
+listing(text, recorded(compiled(read_source(text)), trace(compiled(read_source(text)), [], [5] * 11, 99)))
+# '    fun main() {\n 1:   read x; while x {\n11:     print x;\n11:     read x;\n      }\n 1:   if x { print 9; }\n    }\n'
+unrun_lines(text, recorded(compiled(read_source(text)), trace(compiled(read_source(text)), [], [5], 99)))
+# [6]
+ranked(old, recorded(old, trace(old, [], [5, 7], 9)))[:3]
+# [(2, ('main', 'a', 'yes')), (2, ('main', 'b', 'go')), (1, ('main', 'a', 'no'))]
+"""
+BENCH = r"""
+from fewprobes.bench import Bench
+pair = ("program", [("main", [], [("top", [("read", "x")], ("test", "x", "more", "done")), ("more", [], ("call", "y", "f", ("x",), "top")), ("done", [], ("return", "x"))]), ("f", ["a"], [("in", [], ("return", "a"))])])
+bench = Bench(pair)
+bench.choose([("f", "in", "return"), ("main", "done", "return")])
+[bench.record([], [4, 5], 99), bench.record([], [6], 2), bench.takings()]
+# [(('value', 0), [], []), (('on',), [('main', 'more'), ('f', 'in')], []), (2, [2, 1], [0, 1, 0, 0], [0, 0, 0, 1])]
+[bench.sums(), bench.seen(), len(bench)]
+# [[3, 1, 3, 2, 0, 1, 2], ['yes', 'yes', 'yes', 'yes', 'no', 'yes', 'yes'], 2]
+bench.undo()
+[bench.takings(), len(bench.log())]
+# [(1, [2, 1], [0, 0, 0, 0], [0, 0, 0, 0]), 2]
+"""
 
 
 class Shown(unittest.TestCase):
@@ -147,3 +206,12 @@ class Shown(unittest.TestCase):
 
     def test_coverage(self):
         self.check(COVERAGE)
+
+    def test_rebuild(self):
+        self.check(REBUILD)
+
+    def test_edits(self):
+        self.check(EDITS)
+
+    def test_bench(self):
+        self.check(BENCH)
