@@ -1,7 +1,7 @@
 """Coverages: which sets of marks are some, ways that have just these marks, and which marks imply which."""
 
 from fewprobes.errors import InvalidProfile, TooMany
-from fewprobes.flow import edge_number, flow_of
+from fewprobes.flow import flow_of
 from fewprobes.grammar import check_flag
 from fewprobes.marking import Marks, Trails, mark_number, mark_set, set_numbers
 from fewprobes.shortest import MOST_EDGES, Shortest
@@ -45,7 +45,7 @@ def ways_over(program, covered, cuts):
         way = shortest.way_with(number)
         ways.append(way)
         for edge in way:
-            held[edge_number(known.flow, edge)] = True
+            held[known.mark_at[edge]] = True
     return ways
 
 

@@ -175,6 +175,7 @@ class Rebuilding(unittest.TestCase):
             ([], ("raise", "c0"), "c1"), ([], ("test", "c0", "b", "b"), "c1"), ([], ("go", "b"), "c0"),
             ([], ("call", "c0", "c1", (), "b"), "c1"), ([], ("call", "x", "f", ("c0", "c1"), "b"), "c2"),
             ([], ("try", "x", "f", ("c0", "x"), "b", "c1", "b"), "c2"), ([("count", 0)], END, "c0"),
+            ([("copy", "c0", "x")], END, "c1"), ([], ("try", "c0", "f", ("x", "x"), "b", "y", "b"), "c1"),
         ]:
             blocks = [("a", [], ("call", "x", "c1", (), "b")), ("b", [], END), ("c5", steps, end)]
             program = ("program", [("main", [], blocks), ("c1", [], [("c0", [("set", "c0", 1)], END)]),
