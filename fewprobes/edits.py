@@ -11,7 +11,9 @@ def in_step(program, other):
     pairs = pairs_of(program, other)
     found = []
     for block, partner in pairs.alike:
-        found.append((*pairs.flow.blocks[block], *pairs.other_flow.blocks[partner], pairs.alike[(block, partner)]))
+        name, label = pairs.flow.blocks[block]
+        other_name, other_label = pairs.other_flow.blocks[partner]
+        found.append((name, label, other_name, other_label, pairs.alike[(block, partner)]))
     return found
 
 

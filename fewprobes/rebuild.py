@@ -51,10 +51,13 @@ def told_by(plan, stack):
     target = flow.target_of[late[0]]
     # The program's run has passed on a fault at once, as far as it is passed on.
     while target == NONE and calls:
-        number = flow.number_at[(flow.block_at[calls.pop()], "fault")]
-        target = flow.target_of[number]
-        if number in plan.counter_of:
-            late.append(number)
+        name, label = calls.pop()
+        number = flow.edge_at.get((name, label, "fault"), NONE)
+        # Blocks that call nothing stand there only in what stands behind no way.
+        if number != NONE:
+            target = flow.target_of[number]
+            if number in plan.counter_of:
+                late.append(number)
     own = [] if target == NONE else [*calls, flow.blocks[target]]
     return own, late
 
@@ -95,11 +98,12 @@ def flagged(program, probes, counters, stack):
     own, late = told_by(plan, stack)
     known = Marks(plan.flow)
     found = {number: True for number, many in zip(plan.counter_of, numbers_told(plan, counters, late)) if many > 0}
-    blocks = [plan.flow.block_at[place] for place in own]
-    for block in blocks[:-1]:
-        found[known.pause_at[(block, "waits")]] = True
-    for block in blocks[-1:]:
-        found[known.pause_at[(block, "stands")]] = True
+    waiting = [(name, label, "waits") for name, label in own[:-1]]
+    standing = [(name, label, "stands") for name, label in own[-1:]]
+    for mark in waiting + standing:
+        # What stands behind no way may have what is no mark.
+        if mark in known.mark_at:
+            found[known.mark_at[mark]] = True
     return known.told(found)
 
 

@@ -385,6 +385,16 @@ class SamePoints(unittest.TestCase):
             found = function(shown(), PROBES, *more, [])
             self.assertEqual(found, {meant: ([], []), counted: [0, 0, 0], flagged: []}[function])
 
+    def test_stacks_of_the_right_form_that_stand_behind_no_way_are_not_refused(self):
+        program = shown()
+        for stack in [[("main", "c0")] * 3, [("main", "e"), ("main", "c0")], [("f", "c0"), ("main", "d")],
+                [("f", "a"), ("f", "c0"), ("f", "c0")], [("f", "b"), ("main", "e")]]:
+            own, late = meant(program, PROBES, stack)
+            self.assertEqual(len(counted(program, PROBES, [], stack)), 3)
+            self.assertIsInstance(flagged(program, PROBES, [], stack), list)
+            if stack[-1][1] != "c0":
+                self.assertEqual([own, late], [stack, []])
+
     def test_stacks_where_there_is_no_such_program(self):
         labels = many_words(107)
         blocks = [(label, [("count", 990)], ("test", "x", label, label)) for label in labels]
